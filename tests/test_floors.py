@@ -1,0 +1,190 @@
+import itertools
+import unittest
+
+from helper import Same, Thing, is_plain, is_whole, junk, layings_tried, raised, some_fields, square, strange
+from turnsall.floors import all_layings, check_laying, is_laying, laying_paper, need_field
+from turnsall.worlds import all_solutions
+
+FIELDS = some_fields(60, (2, 3, 4, 5, 6, 7, 8, 9, 10)) + [square(2, 2), square(1, 2), square(3, 4), square(3, 3), square(4, 4)]
+# As many dark as light cells, and no LAYING.
+BARRED = [
+    ((1, 1), (2, 0), (2, 1), (2, 2), (2, 3), (3, 2)), ((1, 3), (2, 3), (2, 4), (3, 2), (3, 3), (4, 3), (4, 4), (4, 5)),
+    ((0, 0), (1, 0), (1, 2), (2, 0), (2, 1), (2, 2), (2, 3), (3, 1)),
+]
+BAD_FIELDS = [
+    None, 0, "field", [(0, 0), (0, 1)], {(0, 0), (0, 1)}, (), ((0, 0),), ((0, 1), (0, 0)), ((0, 0), (0, 0)), ((0, 0), (1, 1)),
+    ((0, 0), (0, 2)), ((0, 5), (0, 6)), ((-1, 0), (0, 0)), ((5, 0), (6, 0)), ((0, 0), [0, 1]), ((0, 0), (0, True)),
+    ((False, 0), (0, 1)), ((0, 0), (0, 1, 2)), ((0, 0), (0,)), ((0, 0), 1), ((0, 0), None), ((0, 0), Thing()),
+    ((0, 0), (0, Same())), ((0, 0), "01"), square(3, 6)[:17], square(6, 6),
+    tuple(cell for cell in square(3, 3) if cell != (1, 1)),
+    tuple(cell for cell in square(4, 4) if cell not in ((1, 1), (2, 2))),
+    tuple(cell for cell in square(4, 4) if cell not in ((0, 0), (1, 1))),
+]
+
+
+def is_balanced(field):
+    return sum((row + column) % 2 for row, column in field) * 2 == len(field)
+
+
+def steps_tried(field):
+    """The dict of all STEPS with what is at the right and at the left hand."""
+    found = {}
+    for row, column in field:
+        corners = [(row, column), (row, column + 1), (row + 1, column + 1), (row + 1, column)]
+        out = [(row - 1, column), (row, column + 1), (row + 1, column), (row, column - 1)]
+        # Round a cell from its upper left corner by the right: the cell is at the right hand.
+        for start, goal, beyond in zip(corners, corners[1:] + corners[:1], out):
+            found[start, goal] = ((row, column), beyond)
+            found[goal, start] = (beyond, (row, column))
+    return found
+
+
+def rises_tried(field):
+    """The dict of the GREATEST RISE of all STEPS, and the HEIGHTS of the BORDER, of a field with as many of both."""
+    rises, border = {}, {}
+    for step, (right, left) in steps_tried(field).items():
+        dark = (right[0] + right[1]) % 2 == 0
+        inner = right in field and left in field
+        rises[step] = 1 if dark else 3 if inner else -1
+        if not inner:
+            border[step] = rises[step]
+    heights = {min(step[0] for step in border): 0}
+    while True:
+        more = {goal: heights[start] + rise for (start, goal), rise in border.items() if start in heights and goal not in heights}
+        if not more:
+            break
+        heights.update(more)
+    for (start, goal), rise in border.items():
+        assert heights[goal] - heights[start] == rise
+    return rises, heights
+
+
+def does_bar(field, walk):
+    """Whether a tuple of POINTS is a WALK that bars."""
+    if not is_balanced(field) or not 2 <= len(walk) <= 99:
+        return False
+    rises, heights = rises_tried(field)
+    if walk[0] not in heights or walk[-1] not in heights or not all(step in rises for step in zip(walk, walk[1:])):
+        return False
+    return sum(rises[step] for step in zip(walk, walk[1:])) < heights[walk[-1]] - heights[walk[0]]
+
+
+class Floors(unittest.TestCase):
+
+    def test_need_field(self):
+        for field in FIELDS + BARRED:
+            self.assertIs(need_field(field), field)
+        for value in junk() + BAD_FIELDS:
+            for call, more in ((need_field, []), (is_laying, [None]), (all_layings, []), (laying_paper, []), (check_laying, [None])):
+                kind, fields = raised(call, value, *more)
+                self.assertEqual(kind, "BadField", value)
+                self.assertIs(fields["given"], value)
+
+    def test_all_lots_of_cells_of_three_by_three(self):
+        cells = [(row, column) for row in range(-1, 7) for column in range(-1, 7)]
+        for size in range(10):
+            for field in itertools.combinations(square(3, 3), size):
+                is_field = size > 1 and is_whole(set(field)) and is_whole(set(cells) - set(field))
+                self.assertEqual(raised(need_field, field)[0], None if is_field else "BadField")
+
+    def test_all_layings(self):
+        for field in FIELDS:
+            self.assertEqual(all_layings(field), tuple(layings_tried(field)))
+        self.assertEqual(len(all_layings(square(4, 4))), 36)
+        self.assertEqual(all_layings(square(3, 3)), ())
+        self.assertEqual(set(all_layings(square(4, 4))), set(all_solutions(("floor", square(4, 4)))))
+        self.assertEqual(all_layings(square(2, 2))[0], (((0, 0), (0, 1)), ((1, 0), (1, 1))))
+
+    def test_is_laying(self):
+        field = square(2, 3)
+        right = layings_tried(field)
+        tiles = sorted({tile for laying in right for tile in laying})
+        for size in range(5):
+            for laying in itertools.product(tiles, repeat=size):
+                self.assertIs(is_laying(field, laying), laying in right)
+        first = right[0]
+        for value in junk() + [
+            None, list(first), first[::-1], first[:-1], first + first[-1:], tuple(map(list, first)), tuple(tile[::-1] for tile in first),
+            (((0, 0), (1, 1)), ((0, 1), (1, 0)), ((0, 2), (1, 2))), (((0, 0), (0, True)),) + first[1:], first[:2] + (None,),
+            first[:2] + (Thing(),), first[:2] + ((Same(), Same()),), first[:2] + (((1, 2), (1, 3)),),
+        ]:
+            self.assertIs(is_laying(field, value), False, value)
+
+
+class Papers(unittest.TestCase):
+
+    def test_papers(self):
+        words = {"laid": 0, "unlike": 0, "walk": 0}
+        for field in FIELDS + BARRED + some_fields(300, (6, 8, 10, 12, 14, 16)):
+            paper = laying_paper(field)
+            words[paper[0]] += 1
+            self.assertEqual(check_laying(field, paper), paper[0])
+            self.assertEqual(paper[0] == "unlike", not is_balanced(field))
+            self.assertEqual(paper[0] == "laid", bool(all_layings(field)))
+            if paper[0] == "walk":
+                self.assertEqual(len(paper), 2)
+                self.assertTrue(does_bar(field, paper[1]))
+        self.assertGreater(min(words.values()), 3)
+
+    def test_never_two_sorts(self):
+        for field in FIELDS[:30] + BARRED:
+            self.assertEqual(raised(check_laying, field, ("unlike",))[0], "BadPaper" if is_balanced(field) else None)
+            for laying in layings_tried(field)[:5]:
+                self.assertEqual(check_laying(field, ("laid", laying)), "laid")
+
+    def test_any_walk(self):
+        held = 0
+        for field in BARRED + [square(2, 2), square(2, 3), ((0, 0), (0, 1), (0, 2))]:
+            steps = steps_tried(field)
+            points = sorted({step[0] for step in steps})
+            walks = [(point,) for point in points]
+            for _ in range(4):
+                walks = [walk + (goal,) for walk in walks for goal in points if (walk[-1], goal) in steps][:1500]
+                for walk in walks:
+                    due = (None, "walk") if does_bar(field, walk) else ("BadPaper", {"part": "walk"})
+                    self.assertEqual(raised(check_laying, field, ("walk", walk)), due)
+                    held += due[0] is None
+        self.assertGreater(held, 20)
+
+    def test_long_walks(self):
+        field = BARRED[0]
+        walk = laying_paper(field)[1]
+        # To and fro along the border changes nothing, up to 99 POINTS.
+        steps = steps_tried(field)
+        near = [goal for (start, goal), (right, left) in steps.items()
+                if start == walk[0] and (right in field) != (left in field)][0]
+        for many in (1, 20, (99 - len(walk)) // 2):
+            long = (walk[0], near) * many + walk
+            self.assertLess(len(long), 100)
+            self.assertEqual(check_laying(field, ("walk", long)), "walk")
+        self.assertEqual(raised(check_laying, field, ("walk", (walk[0], near) * 49 + walk)), ("BadPaper", {"part": "walk"}))
+
+    def test_bent_papers(self):
+        field = BARRED[0]
+        walk = laying_paper(field)[1]
+        for paper in junk() + [
+            None, "unlike", ("unlike", 1), ("unlike", ()), ("laid",), ("walk",), ("walk", walk, 0), ["walk", walk], ("walks", walk),
+            (None,), (None, walk), (Same(),), (Same(), walk), (("walk",), walk), (), (b"walk", walk), ("Unlike",),
+        ]:
+            self.assertEqual(raised(check_laying, field, paper), ("BadPaper", {"part": "form"}), paper)
+        for value in junk() + [
+            None, list(walk), walk[::-1], walk[:1], (), walk + (None,), walk + (Thing(),), tuple(map(list, walk)), walk + walk,
+            ((0, 0), (0, 1)), walk + ((True, 0),), (Same(), Same()),
+        ]:
+            self.assertEqual(raised(check_laying, field, ("walk", value)), ("BadPaper", {"part": "walk"}), value)
+        for value in junk() + [None, (), [], ((0, 0), (0, 1)), layings_tried(square(2, 3))[0]]:
+            self.assertEqual(raised(check_laying, field, ("laid", value)), ("BadPaper", {"part": "laid"}), value)
+        self.assertEqual(raised(check_laying, square(2, 2), ("unlike",)), ("BadPaper", {"part": "unlike"}))
+        self.assertEqual(check_laying(square(3, 3), ("unlike",)), "unlike")
+        self.assertEqual(raised(check_laying, square(3, 3), ("walk", ((0, 0), (0, 1)))), ("BadPaper", {"part": "walk"}))
+
+    def test_what_is_told_is_plain(self):
+        for field in (square(2, 3), square(3, 3), BARRED[0]):
+            odd = strange(field)
+            self.assertIs(need_field(odd), odd)
+            paper = laying_paper(odd)
+            self.assertTrue(is_plain((paper, all_layings(odd), check_laying(odd, strange(paper)))))
+
+
+if __name__ == "__main__":
+    unittest.main()

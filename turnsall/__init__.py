@@ -1,0 +1,1 @@
+"""Turnsall: worlds whose solutions are turned into one another."""
