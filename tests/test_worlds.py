@@ -39,6 +39,8 @@ NETS = [some_net(seed, 2 + seed % 6, (0, 20, 40, 60)[seed % 4]) for seed in rang
     ("net", 2, ()), ("net", 2, ((0, 1, 0),)), ("net", 2, ((0, 1, 100), (1, 0, 100))), ("net", 5, ()),
     ("net", 5, ((0, 1, 0), (1, 2, 3), (2, 3, 1), (3, 2, 1), (3, 4, 0))),
     ("net", 6, ((0, 1, 1), (0, 2, 1), (1, 3, 1), (2, 4, 1), (3, 5, 1), (4, 5, 1))),
+    # The shortest road takes from 1 to 3 more than the greatest FLOW can have there.
+    ("net", 8, ((0, 1, 2), (0, 2, 1), (1, 3, 2), (1, 5, 1), (2, 4, 1), (3, 7, 2), (4, 3, 1), (5, 6, 1), (6, 7, 1))),
 ]
 
 
@@ -201,6 +203,15 @@ class Worlds(unittest.TestCase):
         self.assertEqual(all_solutions(world)[3], tuple((one + 3) % 12 for one in range(12)))
         row = tuple(range(12))
         self.assertEqual(all_solutions(("pairs", (row,) * 12, (row,) * 12)), (row,))
+
+    def test_the_greatest_worlds(self):
+        pairs = list(itertools.permutations(range(22), 2))
+        pipes = tuple((start, goal, 100) for start, goal in pairs)
+        self.assertEqual(least_solution(("net", 22, pipes[:200])), tuple(range(21)))
+        self.assertEqual(raised(need_world, ("net", 22, pipes[:201])), ("BadWorld", {"part": "pipes"}))
+        bounds = tuple((job, far, 1000) for job, far in itertools.permutations(range(12), 2))
+        self.assertEqual(len(turns(("plan", ((-1000, -999),) * 12, bounds[:60]))), 12)
+        self.assertEqual(raised(need_world, ("plan", ((0, 1),) * 12, bounds[:61])), ("BadWorld", {"part": "bounds"}))
 
     def test_orders_of_jobs(self):
         for seed in range(6):

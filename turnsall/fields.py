@@ -65,11 +65,11 @@ def is_laying_of(field, value):
 
 
 def _is_tile(field, value):
-    """Whether it is a TILE of CELLS of the FIELD, the lesser one first."""
+    """Whether it is a TILE with its lesser CELL, which comes first, in the FIELD."""
     if not is_tuple_of(value, 2):
         return False
     cell, other = value
-    return cell in field and other in field and cell < other and other in cells_beside(cell)
+    return cell in field and other in cells_beside(cell) and cell < other
 
 
 def layings_of(field):

@@ -62,5 +62,5 @@ def is_row_of(value, many):
 
 
 def starts_with(value, word, many):
-    """Whether it is a tuple of so many things with this word first."""
-    return is_tuple_of(value, many) and many > 0 and value[0] == word
+    """Whether it is a tuple of so many things, one at least, with this word first."""
+    return is_tuple_of(value, many) and value[0] == word

@@ -19,10 +19,9 @@ class PairWorld:
         self.least = self._asked_least()
 
     def _asked_least(self):
-        last_asks = [ask for ask in self.asked_by(tuple(range(self.many))) if ask[2]]
         found = [None] * self.many
-        # Only the last other that each one asks is with it in the end.
-        for one, other, _ in last_asks:
+        # With the other that it asks last each one stays together.
+        for one, other, _ in self.asked_by(tuple(range(self.many))):
             found[one] = other
         return tuple(found)
 

@@ -89,7 +89,7 @@ def _told(spots, clock):
 
 def _road_length(spans, bounds, road):
     """The LENGTH of a ROAD; None of what is none."""
-    if not isinstance(road, tuple) or not road or len(road) > len(spans) + 1:
+    if not isinstance(road, tuple) or not road:
         return None
     if not all([_is_place(place, len(spans)) for place in road]):
         return None
@@ -112,8 +112,9 @@ def _length_by(spans, bounds, pairs):
 def _is_ring_below(spans, bounds, ring):
     """Whether it is a RING with a LENGTH below 0."""
     length = _road_length(spans, bounds, ring)
-    if length is None or len(ring) == 1:
+    if length is None:
         return False
+    # No STEP leads from a PLACE to itself, so a RING has two PLACES at least.
     back = _length_by(spans, bounds, [(ring[-1], ring[0])])
     return back is not None and length + back < 0
 
