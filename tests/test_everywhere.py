@@ -15,6 +15,12 @@ WAYS = (1, 1, 0, 1, 0, 0, 0, 0, 1, 0, 1, 1)
 HIGH = (0, 0, 0, 1, 1, 1, 1, 0, 0, 1, 1, 0)
 FIELD = square(2, 2)
 LAID = (((0, 0), (0, 1)), ((1, 0), (1, 1)))
+FLOOR = ("floor", FIELD)
+NET = ("net", 4, ((0, 1, 2), (1, 2, 2), (2, 1, 1), (2, 3, 2)))
+FLOW = (2, 2, 0, 2)
+# What lies as low as can be: it can be shifted by none of the integers among the values of every kind.
+LOW = ("plan", ((-1000, -999),), ())
+HEIGHTS = (((0, 0), 0), ((0, 1), 1), ((0, 2), 0), ((1, 0), -1), ((1, 1), -2), ((1, 2), -1), ((2, 0), 0), ((2, 1), 1), ((2, 2), 0))
 # For each function arguments that are right, and the word of the error of each, without Bad; "-" for one of anything.
 RIGHT = {
     "orders": {
@@ -69,6 +75,42 @@ RIGHT = {
         "reach": ["World Place Place", PLAN, None, 0], "late_paper": ["World Job", PLAN, 1], "early_paper": ["World Job", PLAN, 1],
         "check_time": ["World Job Paper", PLAN, 1, ("late", (None, 1), (2, 2))],
     },
+    "jobgroups": {
+        "job_groups": ["World", PLAN], "still_jobs": ["World", PLAN], "sure_gaps": ["World", PLAN],
+        "can_go_later": ["World Solution Jobs", PLAN, (0, 0), (0,)], "gone_later": ["World Solution Jobs", PLAN, (0, 0), (0,)],
+    },
+    "planabout": {
+        "plan_about": ["World", PLAN], "times_about": ["World Solution", PLAN, (1, 0)], "plan_shifted": ["World Shift", LOW, 1],
+        "idle_bounds": ["World", PLAN], "without_bound": ["World Bound", PLAN, 0],
+    },
+    "tiles": {
+        "blocks_of": ["Field", FIELD], "way_of": ["Field Laying Block", FIELD, LAID, (0, 0)],
+        "block_turned": ["Field Laying Block", FIELD, LAID, (0, 0)], "standing_in": ["Field Laying", FIELD, LAID],
+        "times_of": ["World Solution Block", FLOOR, LAID, (0, 0)],
+    },
+    "heights": {
+        "points_of": ["Field", FIELD], "heights_of": ["Field Laying", FIELD, LAID], "laying_at": ["Field Heights", FIELD, HEIGHTS],
+        "border_heights": ["Field", FIELD], "greatest_heights": ["World", FLOOR],
+        "flat_meet": ["World Solution Solution", FLOOR, LAID, LAID], "flat_join": ["World Solution Solution", FLOOR, LAID, LAID],
+    },
+    "nets": {
+        "width_of": ["World Side", NET, (0, 2)], "least_width": ["World", NET], "net_paper": ["World", NET],
+        "check_net": ["World Paper", NET, ((0, 1), FLOW)],
+    },
+    "leads": {
+        "flow_sum": ["World Flow", NET, FLOW], "does_lead": ["World Flow Place Place", NET, FLOW, 1, 2],
+        "always_in": ["World", NET], "never_in": ["World", NET], "pieces": ["World", NET], "piece_ahead": ["World Place", NET, 1],
+    },
+    "pipes": {
+        "out_of_some": ["World", NET], "out_of_all": ["World", NET], "with_room": ["World Pipe Room", NET, 1, 7],
+        "room_line": ["World Pipe", NET, 1],
+    },
+    "shortways": {
+        "far_from": ["Order Lower Lower", ORDER, (0,), (0, 3)], "is_way": ["Order -", ORDER, ((0,),)],
+        "is_short": ["Order -", ORDER, ((0,),)], "first_way": ["Order Lower Lower", ORDER, (0,), (0, 3)],
+        "way_count": ["Order Lower Lower", ORDER, (0,), (0, 3)], "way_at": ["Order Lower Lower Number", ORDER, (0,), (0, 3), 0],
+        "ways_through": ["Order Lower Lower Lower", ORDER, (0,), (0, 3), ()],
+    },
     "floors": {
         "need_field": ["Field", FIELD], "is_laying": ["Field -", FIELD, LAID], "all_layings": ["Field", FIELD],
         "laying_paper": ["Field", FIELD], "check_laying": ["Field Paper", FIELD, ("laid", LAID)],
@@ -113,8 +155,12 @@ class Everywhere(unittest.TestCase):
                     self.assertEqual(kind, "Bad" + word, (name, spot, value))
                     if word in ("Order", "World", "Paper"):
                         # Two of these values are pairs.
-                        two = word == "Order" and isinstance(value, tuple) and len(value) == 2
-                        self.assertEqual(fields, {"part": "form" if not two else "pairs" if value[0] is zero else "many"})
+                        part = "form"
+                        if isinstance(value, tuple) and len(value) == 2:
+                            part = "pairs" if value[0] is zero else "many"
+                            if word != "Order":
+                                part = "side" if (name, word) == ("nets.check_net", "Paper") else "form"
+                        self.assertEqual(fields, {"part": part})
                     else:
                         self.assertEqual(list(fields), ["given"])
                         self.assertIs(fields["given"], value)
@@ -123,7 +169,7 @@ class Everywhere(unittest.TestCase):
         for name, call, words, args in rows():
             if words[0] == "World":
                 due = ("TooMany", {"most": 20})
-                many = swapped_pairs(21) if args[0] is PAIRS else ("plan", ((0, 21),), ()) if args[0] is PLAN else None
+                many = swapped_pairs(21) if args[0] is PAIRS else ("plan", ((0, 21),), ()) if args[0] in (PLAN, LOW) else None
                 if many is not None:
                     self.assertEqual(raised(call, many, *[Same()] * (len(args) - 1)), due, name)
 
@@ -146,9 +192,13 @@ class Everywhere(unittest.TestCase):
         shared = row
         for _ in range(20):
             shared = (shared,) * 9
+        seen = set()
         for name, call, words, args in rows():
             for spot, word in enumerate(words):
-                for value in (deep, wide, text, (wide, text), shared):
+                # What would grow beyond all bounds takes long to be refused: once for each kind of argument is enough.
+                grown = [] if word in seen else [shared]
+                seen.add(word)
+                for value in [deep, wide, text, (wide, text)] + grown:
                     kind = raised(call, *args[:spot], value, *args[spot + 1:])[0]
                     self.assertEqual(kind, None if word == "-" else "Bad" + word, (name, spot))
 

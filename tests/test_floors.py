@@ -1,7 +1,10 @@
 import itertools
 import unittest
 
-from helper import Same, Thing, is_plain, is_whole, junk, layings_tried, raised, some_fields, square, strange
+from helper import (
+    Same, Thing, is_balanced, is_plain, is_whole, junk, layings_tried, raised, rises_tried, some_fields, square,
+    steps_tried, strange,
+)
 from turnsall.floors import all_layings, check_laying, is_laying, laying_paper, need_field
 from turnsall.worlds import all_solutions
 
@@ -20,43 +23,6 @@ BAD_FIELDS = [
     tuple(cell for cell in square(4, 4) if cell not in ((1, 1), (2, 2))),
     tuple(cell for cell in square(4, 4) if cell not in ((0, 0), (1, 1))),
 ]
-
-
-def is_balanced(field):
-    return sum((row + column) % 2 for row, column in field) * 2 == len(field)
-
-
-def steps_tried(field):
-    """The dict of all STEPS with what is at the right and at the left hand."""
-    found = {}
-    for row, column in field:
-        corners = [(row, column), (row, column + 1), (row + 1, column + 1), (row + 1, column)]
-        out = [(row - 1, column), (row, column + 1), (row + 1, column), (row, column - 1)]
-        # Round a cell from its upper left corner by the right: the cell is at the right hand.
-        for start, goal, beyond in zip(corners, corners[1:] + corners[:1], out):
-            found[start, goal] = ((row, column), beyond)
-            found[goal, start] = (beyond, (row, column))
-    return found
-
-
-def rises_tried(field):
-    """The dict of the GREATEST RISE of all STEPS, and the HEIGHTS of the BORDER, of a field with as many of both."""
-    rises, border = {}, {}
-    for step, (right, left) in steps_tried(field).items():
-        dark = (right[0] + right[1]) % 2 == 0
-        inner = right in field and left in field
-        rises[step] = 1 if dark else 3 if inner else -1
-        if not inner:
-            border[step] = rises[step]
-    heights = {min(step[0] for step in border): 0}
-    while True:
-        more = {goal: heights[start] + rise for (start, goal), rise in border.items() if start in heights and goal not in heights}
-        if not more:
-            break
-        heights.update(more)
-    for (start, goal), rise in border.items():
-        assert heights[goal] - heights[start] == rise
-    return rises, heights
 
 
 def does_bar(field, walk):

@@ -1,10 +1,11 @@
 """FIELDS, their LAYINGS, and whether they have one."""
 
-from turnsall.errors import BadField, BadPaper
-from turnsall.fields import has_as_many, is_field, is_laying_of, layings_of
+from turnsall.errors import BadPaper
+from turnsall.fields import has_as_many, is_laying_of, layings_of
 from turnsall.kinds import is_number, plain, starts_with
 from turnsall.rises import greatest_rise, heights_of_border, is_border_step, steps_in
 from turnsall.roads import road_to, roads_from
+from turnsall.wantedfields import wanted_field
 
 LEAST_WALK = 2
 MOST_WALK = 99
@@ -12,23 +13,23 @@ MOST_WALK = 99
 
 def need_field(thing):
     """The FIELD itself; BadField of what is none."""
-    _wanted_field(thing)
+    wanted_field(thing)
     return thing
 
 
 def is_laying(field, value):
     """Whether any value is a LAYING of the FIELD."""
-    return is_laying_of(_wanted_field(field), plain(value))
+    return is_laying_of(wanted_field(field), plain(value))
 
 
 def all_layings(field):
     """All LAYINGS of the FIELD, ascending."""
-    return layings_of(_wanted_field(field))
+    return layings_of(wanted_field(field))
 
 
 def laying_paper(field):
     """A PAPER on whether the FIELD has a LAYING."""
-    field = _wanted_field(field)
+    field = wanted_field(field)
     if not has_as_many(field):
         return ("unlike",)
     layings = layings_of(field)
@@ -39,7 +40,7 @@ def laying_paper(field):
 
 def check_laying(field, paper):
     """The first word of a PAPER that holds; BadPaper of any other value."""
-    field = _wanted_field(field)
+    field = wanted_field(field)
     paper = plain(paper)
     if starts_with(paper, "unlike", 1):
         held = not has_as_many(field)
@@ -98,10 +99,3 @@ def _inner_steps(field):
         for point, goal in all_steps if not is_border_step(field, point, goal)
     ]
     return points, steps
-
-
-def _wanted_field(given):
-    field = plain(given)
-    if not is_field(field):
-        raise BadField(given)
-    return field

@@ -1,5 +1,7 @@
 """FLOWS of nets: one with the greatest SUM, and what leads to what by it."""
 
+from turnsall.kinds import is_number, is_tuple_of
+
 
 def greatest_flow(places, pipes):
     """A FLOW with the greatest SUM."""
@@ -68,3 +70,35 @@ def _led_to(steps, place):
                 found[goal] = True
                 reached.append(goal)
     return found
+
+
+def sum_of_flow(pipes, flow):
+    """How much more is told of pipes from 0 than of pipes to 0."""
+    return 0 - _gain_at(pipes, flow, 0)
+
+
+def _gain_at(pipes, flow, place):
+    """How much more is told of pipes to the place than of pipes from it."""
+    gain = 0
+    for (start, goal, _), amount in zip(pipes, flow):
+        if goal == place:
+            gain += amount
+        if start == place:
+            gain -= amount
+    return gain
+
+
+def is_flow_of(places, pipes, value):
+    """Whether what plain() told is a FLOW."""
+    if not is_tuple_of(value, len(pipes)):
+        return False
+    if not all([is_number(amount, 0, pipe[2]) for amount, pipe in zip(value, pipes)]):
+        return False
+    if sum_of_flow(pipes, value) < 0:
+        return False
+    return all([_gain_at(pipes, value, place) == 0 for place in range(1, places - 1)])
+
+
+def width_by(pipes, side):
+    """The WIDTH of a SIDE."""
+    return sum([room for start, goal, room in pipes if start in side and goal not in side])

@@ -24,10 +24,9 @@ class NetWorld:
 
     def _all_pieces(self):
         """All PIECES, by the least place of each."""
-        last = self.many - 1
         open_places = [
             place for place in range(self.many)
-            if place not in self.leads_to[0] and last not in self.leads_to[place]
+            if place not in self.leads_to[0] and not self.is_never_in(place)
         ]
         found = []
         for place in open_places:
@@ -39,11 +38,19 @@ class NetWorld:
                 found.append(piece)
         return tuple(found)
 
+    def is_never_in(self, place):
+        """Whether no SOLUTION has the place."""
+        return self.many - 1 in self.leads_to[place]
+
     def is_solution(self, value):
         """Whether what plain() told is a SOLUTION: a SIDE that is led out of by nothing in it."""
-        if not is_lot(value, self.many - 1) or 0 not in value:
+        if not self.is_side(value):
             return False
         return all([goal in value for place in value for goal in self.leads_to[place]])
+
+    def is_side(self, value):
+        """Whether what plain() told is a SIDE."""
+        return is_lot(value, self.many - 1) and 0 in value
 
     def has_turn(self, solution, turn):
         """Whether the TURN can be done at the SOLUTION."""

@@ -29,12 +29,13 @@ class PlanWorld:
         """All GROUPS, ascending."""
         found = []
         for spot in range(self.many):
-            group = tuple([other for other in range(self.many + 1) if self._go_together(spot, other)])
+            group = tuple([other for other in range(self.many + 1) if self.go_together(spot, other)])
             if group[0] == spot and group[-1] != self.many:
                 found.append(group)
         return tuple(found)
 
-    def _go_together(self, spot, other):
+    def go_together(self, spot, other):
+        """Whether one is later than the other one by the same number in all SOLUTIONS."""
         return self.lengths[spot][other] + self.lengths[other][spot] == 0
 
     def is_solution(self, value):

@@ -1,6 +1,6 @@
 """POINTS, STEPS and HEIGHTS of FIELDS; what is here takes plain right values alone."""
 
-from turnsall.fields import cells_beside, has_as_many, is_dark
+from turnsall.fields import cells_beside, has_as_many, is_dark, is_laying_of
 
 
 def points_in(field):
@@ -79,3 +79,17 @@ def _heights_along(rises):
                 heights[goal] = heights[point] + rise
                 found = True
     return heights
+
+
+def laying_by(field, heights):
+    """The LAYING with these HEIGHTS, a dict with an integer for each POINT; None if none has them."""
+    tiles = []
+    for point, goal in steps_in(field):
+        right, left = hands_of(point, goal)
+        # Across a TILE one falls by 3 with the dark CELL at the right hand; by no other STEP so much.
+        if is_dark(right) and heights[goal] - heights[point] == -3:
+            tiles.append((min(right, left), max(right, left)))
+    laying = tuple(sorted(tiles))
+    if not is_laying_of(field, laying) or heights_in(field, laying) != heights:
+        return None
+    return laying
