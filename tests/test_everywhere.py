@@ -7,6 +7,7 @@ import unittest
 from helper import Same, Thing, is_plain, junk, raised, square, strange, swapped_pairs, turning_pairs
 
 ORDER = (4, ((0, 1), (1, 2)))
+WORTHS = (-2, 5, -1, 0)
 PAIRS = turning_pairs(3)
 TOWN = ("streets", 2, 2, (1, 1, 1, 1, 4, 1, 1, 1, 1))
 PLAN = ("plan", ((0, 2), (0, 2)), ((0, 1, 0),))
@@ -111,6 +112,35 @@ RIGHT = {
         "way_count": ["Order Lower Lower", ORDER, (0,), (0, 3)], "way_at": ["Order Lower Lower Number", ORDER, (0,), (0, 3), 0],
         "ways_through": ["Order Lower Lower Lower", ORDER, (0,), (0, 3), ()],
     },
+    "betweens": {
+        "is_between": ["Order Lower Lower Lower", ORDER, (0,), (0, 1), ()], "middle": ["Order Lower Lower Lower", ORDER, (0,), (0, 1), ()],
+        "all_between": ["Order Lower Lower", ORDER, (0,), (0, 3)],
+    },
+    "rounds": {
+        "is_round": ["Order Lower -", ORDER, (0,), (3,)], "fewest_rounds": ["Order Lower Lower", ORDER, (0,), (0, 1, 2)],
+        "rounds_paper": ["Order Lower Lower Number", ORDER, (0,), (0, 3), 1],
+        "check_rounds": ["Order Lower Lower Number Paper", ORDER, (0,), (0, 3), 1, ("rounds", ((3,),))],
+    },
+    "nearests": {
+        "nearest_ends": ["Order Lowers", ORDER, ((0,), ())], "least_sum": ["Order Lowers", ORDER, ((0,), ())],
+        "sum_from": ["Order Lowers Lower", ORDER, ((0,), ()), (3,)], "between_ends": ["Order Lowers", ORDER, ((0,), ())],
+        "is_by_middles": ["Order Lowers Lower", ORDER, ((0,), ()), (3,)], "farthest_ends": ["Order Lower", ORDER, (3,)],
+    },
+    "worths": {
+        "need_worths": ["Order Worths", ORDER, WORTHS], "worth_of": ["Order Worths Lower", ORDER, WORTHS, (3,)],
+        "greatest_worth": ["Order Worths", ORDER, WORTHS], "is_dearest": ["Order Worths Lower", ORDER, WORTHS, (3,)],
+        "least_dearest": ["Order Worths", ORDER, WORTHS], "greatest_dearest": ["Order Worths", ORDER, WORTHS],
+    },
+    "dearpapers": {
+        "is_flow": ["Order Worths -", ORDER, WORTHS, ((1, 0, 2),)], "dear_paper": ["Order Worths Integer", ORDER, WORTHS, 3],
+        "check_dear": ["Order Worths Integer Paper", ORDER, WORTHS, 2, ("dear", (0, 1))],
+    },
+    "dearties": {"dearest_groups": ["Order Worths", ORDER, WORTHS], "dearest_by": ["Order Worths Lot", ORDER, WORTHS, (0,)]},
+    "falls": {
+        "levels": ["Order Worths", ORDER, WORTHS], "fall_of": ["Order Worths", ORDER, WORTHS], "carry_for": ["Order Worths", ORDER, WORTHS],
+        "made_by": ["Order Worths Carry", ORDER, WORTHS, ((0, 1, (7, 2)),)],
+        "does_fall": ["Order Worths Carry", ORDER, WORTHS, ((0, 1, (7, 2)),)],
+    },
     "floors": {
         "need_field": ["Field", FIELD], "is_laying": ["Field -", FIELD, LAID], "all_layings": ["Field", FIELD],
         "laying_paper": ["Field", FIELD], "check_laying": ["Field Paper", FIELD, ("laid", LAID)],
@@ -151,8 +181,10 @@ class Everywhere(unittest.TestCase):
                 if word == "-":
                     continue
                 for value in junk():
+                    if word == "Integer" and type(value) is int:
+                        continue
                     kind, fields = raised(call, *args[:spot], value, *[Thing()] * (len(args) - spot - 1))
-                    self.assertEqual(kind, "Bad" + word, (name, spot, value))
+                    self.assertEqual(kind, "Bad" + word.replace("Integer", "Number"), (name, spot, value))
                     if word in ("Order", "World", "Paper"):
                         # Two of these values are pairs.
                         part = "form"
@@ -200,7 +232,7 @@ class Everywhere(unittest.TestCase):
                 seen.add(word)
                 for value in [deep, wide, text, (wide, text)] + grown:
                     kind = raised(call, *args[:spot], value, *args[spot + 1:])[0]
-                    self.assertEqual(kind, None if word == "-" else "Bad" + word, (name, spot))
+                    self.assertEqual(kind, None if word == "-" else "Bad" + word.replace("Integer", "Number"), (name, spot))
 
 
 if __name__ == "__main__":

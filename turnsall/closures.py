@@ -69,6 +69,13 @@ def bare_by(ahead):
     return (len(ahead), tuple(sorted(pairs)))
 
 
+def narrowed_by(ahead, lot):
+    """For each item of the LOT the bits of those of it that are ahead, all by their places in the LOT."""
+    return [
+        mask_of([spot for spot, other in enumerate(lot) if has_bit(ahead[item], other)]) for item in lot
+    ]
+
+
 def is_lower_mask(ahead, mask):
     """Whether with each item of the bits all that are ahead of it are there."""
     return all([is_within(ahead[item], mask) for item in lot_of(mask)])
@@ -81,6 +88,14 @@ def can_be_put(ahead, lower):
         item for item, needed in enumerate(ahead)
         if not has_bit(mask, item) and is_within(needed, mask)
     ])
+
+
+def can_be_taken(ahead, lower):
+    """The LOT of the items that can be taken from a LOWER."""
+    needed = 0
+    for item in lower:
+        needed |= ahead[item]
+    return tuple([item for item in lower if not has_bit(needed, item)])
 
 
 def lowers_of(order, most):

@@ -1,6 +1,6 @@
 """LOWERS: lots of items that have with each item all that are ahead of it."""
 
-from turnsall.closures import can_be_put, lot_of, lowers_of, mask_of, masks_ahead, masks_behind
+from turnsall.closures import can_be_put, can_be_taken, lot_of, lowers_of, mask_of, masks_ahead
 from turnsall.errors import BadItem
 from turnsall.kinds import plain
 from turnsall.wanted import is_plain_lower, wanted_item, wanted_lower, wanted_order
@@ -22,13 +22,7 @@ def can_put(order, lower):
 def can_take(order, lower):
     """The items that can be taken from the LOWER."""
     order = wanted_order(order)
-    return _can_be_taken(order, wanted_lower(order, lower))
-
-
-def _can_be_taken(order, lower):
-    behind = masks_behind(order)
-    mask = mask_of(lower)
-    return tuple([item for item in lower if behind[item] & mask == 0])
+    return can_be_taken(masks_ahead(order), wanted_lower(order, lower))
 
 
 def put(order, lower, item):
@@ -46,7 +40,7 @@ def taken(order, lower, item):
     order = wanted_order(order)
     lower = wanted_lower(order, lower)
     number = wanted_item(order, item)
-    if number not in _can_be_taken(order, lower):
+    if number not in can_be_taken(masks_ahead(order), lower):
         raise BadItem(item)
     return tuple([other for other in lower if other != number])
 

@@ -1,6 +1,6 @@
 """ORDERS turned about, beside and under one another, and narrowed."""
 
-from turnsall.closures import bare_by, has_bit, lot_of, masks_ahead, masks_behind
+from turnsall.closures import bare_by, lot_of, masks_ahead, masks_behind, narrowed_by
 from turnsall.errors import TooMany
 from turnsall.wanted import MOST_ITEMS, wanted_lot, wanted_order
 
@@ -41,8 +41,4 @@ def narrowed(order, lot):
     """The ORDER of the items of the LOT alone, numbered anew."""
     order = wanted_order(order)
     lot = wanted_lot(order, lot)
-    ahead = masks_ahead(order)
-    kept = []
-    for item in lot:
-        kept.append(sum([1 << spot for spot, other in enumerate(lot) if has_bit(ahead[item], other)]))
-    return bare_by(kept)
+    return bare_by(narrowed_by(masks_ahead(order), lot))

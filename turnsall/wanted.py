@@ -1,10 +1,12 @@
 """Arguments about ORDERS, of any kind: each is told as a plain one, or refused."""
 
 from turnsall.closures import is_lower_mask, mask_of, masks_ahead
-from turnsall.errors import BadItem, BadLot, BadLower, BadOrder
+from turnsall.errors import BadItem, BadLot, BadLower, BadLowers, BadOrder, BadWorths
 from turnsall.kinds import is_ascending, is_lot, is_number, is_tuple_of, plain
 
 MOST_ITEMS = 20
+MOST_LOWERS = 8
+MOST_WORTH = 1000
 
 
 def wanted_order(thing):
@@ -49,6 +51,24 @@ def wanted_lower(order, thing):
     if not is_plain_lower(order, lower):
         raise BadLower(thing)
     return lower
+
+
+def wanted_lowers(order, thing):
+    """Told LOWERS; BadLowers."""
+    lowers = plain(thing)
+    if not isinstance(lowers, tuple) or not is_number(len(lowers), 1, MOST_LOWERS):
+        raise BadLowers(thing)
+    if not all([is_plain_lower(order, lower) for lower in lowers]):
+        raise BadLowers(thing)
+    return lowers
+
+
+def wanted_worths(order, thing):
+    """The WORTHS; BadWorths."""
+    worths = plain(thing)
+    if not is_tuple_of(worths, order[0]) or not all([is_number(each, 0 - MOST_WORTH, MOST_WORTH) for each in worths]):
+        raise BadWorths(thing)
+    return worths
 
 
 def is_plain_lower(order, value):
