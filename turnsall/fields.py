@@ -4,7 +4,11 @@ from turnsall.kinds import is_ascending, is_number, is_tuple_of
 
 LEAST_CELLS = 2
 MOST_CELLS = 16
-LAST_ROW = 5
+# Each ROW and each COLUMN is one of these.
+LINES = (0, 1, 2, 3, 4, 5)
+# All pairs of integers from -1 to 6 are the bits of one integer, eight for each row.
+ROW_BITS = 8
+ALL_BITS = 64
 
 
 def is_field(value):
@@ -13,30 +17,28 @@ def is_field(value):
         return False
     if not all([_is_cell(cell) for cell in value]) or not is_ascending(value):
         return False
-    around = [
-        (row, column) for row in range(-1, LAST_ROW + 2) for column in range(-1, LAST_ROW + 2)
-        if (row, column) not in value
-    ]
-    return _holds_together(list(value)) and _holds_together(around)
+    mask = 0
+    for row, column in value:
+        mask |= 1 << ((row + 1) * ROW_BITS + column + 1)
+    whole = (1 << ALL_BITS) - 1
+    return _holds_together(mask) and _holds_together(whole & ~mask)
 
 
 def _is_cell(value):
-    if not is_tuple_of(value, 2):
-        return False
-    return is_number(value[0], 0, LAST_ROW) and is_number(value[1], 0, LAST_ROW)
+    return isinstance(value, tuple) and len(value) == 2 and value[0] in LINES and value[1] in LINES
 
 
-def _holds_together(cells):
-    """Whether one comes from each to each other one by those beside one another."""
-    found = {cells[0]: True}
-    reached = [cells[0]]
-    while reached:
-        cell = reached.pop()
-        for other in cells_beside(cell):
-            if other in cells and other not in found:
-                found[other] = True
-                reached.append(other)
-    return len(found) == len(cells)
+def _holds_together(mask):
+    """Whether one comes from each to each other one by those beside one another.
+
+    From the end of a row one comes to the next row, too: there all pairs are outside, and come to one another anyway.
+    """
+    found = 0
+    wider = mask & -mask
+    while wider != found:
+        found = wider
+        wider = mask & (found | found << 1 | found >> 1 | found << ROW_BITS | found >> ROW_BITS)
+    return found == mask
 
 
 def cells_beside(cell):
@@ -59,34 +61,64 @@ def is_laying_of(field, value):
     """Whether it is a LAYING of the FIELD."""
     if not isinstance(value, tuple) or 2 * len(value) != len(field):
         return False
-    if not all([_is_tile(field, tile) for tile in value]) or not is_ascending(value):
+    if not all([_is_tile(tile) for tile in value]) or not is_ascending(value):
         return False
     return sorted([cell for tile in value for cell in tile]) == list(field)
 
 
-def _is_tile(field, value):
-    """Whether it is a TILE with its lesser CELL, which comes first, in the FIELD."""
-    if not is_tuple_of(value, 2):
+def _is_tile(value):
+    """Whether it is a TILE of CELLS, be they in the FIELD or not."""
+    if not is_tuple_of(value, 2) or not _is_cell(value[0]) or not _is_cell(value[1]):
         return False
-    cell, other = value
-    return cell in field and other in cells_beside(cell) and cell < other
+    (row, column), other = value
+    return other == (row, column + 1) or other == (row + 1, column)
+
+
+def tiles_of(field):
+    """All TILES of CELLS of the FIELD, ascending."""
+    inside = {cell: True for cell in field}
+    tiles = []
+    for row, column in field:
+        for other in ((row, column + 1), (row + 1, column)):
+            if other in inside:
+                tiles.append(((row, column), other))
+    return tiles
 
 
 def layings_of(field):
     """All LAYINGS, ascending."""
     found = []
-    _add_layings(list(field), (), found)
+    _add_layings(_ways_by_cell(field), _all_bare(field), (), found, None)
     return tuple(found)
 
 
-def _add_layings(bare, laid, found):
-    """All LAYINGS that begin with the TILES laid, the CELLS that are bare being left."""
-    if not bare:
+def first_laying(field):
+    """The least LAYING, None if there is none."""
+    found = []
+    _add_layings(_ways_by_cell(field), _all_bare(field), (), found, 1)
+    return found[0] if found else None
+
+
+def _all_bare(field):
+    return (1 << len(field)) - 1
+
+
+def _ways_by_cell(field):
+    """For the bit of each CELL, by its place, all TILES in which it is the lesser one, with the bits of both CELLS."""
+    bits = {cell: 1 << spot for spot, cell in enumerate(field)}
+    ways = {bits[cell]: [] for cell in field}
+    for tile in tiles_of(field):
+        first, second = tile
+        ways[bits[first]].append((bits[first] | bits[second], tile))
+    return ways
+
+
+def _add_layings(ways, bare, laid, found, most):
+    """LAYINGS that begin with the TILES laid, the bits of the CELLS that are bare being left, as long as most lack."""
+    if bare == 0:
         found.append(laid)
         return
-    cell = bare[0]
-    for other in bare[1:]:
-        # The least CELL that is bare can go with the one to the right, or the one below, alone.
-        if other in cells_beside(cell):
-            rest = [each for each in bare if each != cell and each != other]
-            _add_layings(rest, laid + ((cell, other),), found)
+    # The least CELL that is bare can go with the one to the right, or the one below, alone.
+    for both, tile in ways[bare & -bare]:
+        if both & bare == both and len(found) != most:
+            _add_layings(ways, bare & ~both, laid + (tile,), found, most)

@@ -1,69 +1,100 @@
 """WORLDS of floors."""
 
 from turnsall.errors import BadWorld
-from turnsall.fields import is_dark, is_field, is_laying_of, layings_of
+from turnsall.fields import first_laying, is_dark, is_field, is_laying_of, tiles_of
+from turnsall.frames import WorldFrame
 from turnsall.kinds import is_tuple_of
-from turnsall.rises import heights_in
 
 
-class FloorWorld:
-    """A WORLD of a floor: its LEAST SOLUTION, its BLOCKS, and what can be done at each SOLUTION."""
+class FloorWorld(WorldFrame):
+    """A WORLD of a floor: its LEAST SOLUTION, its BLOCKS, and what can be done at each SOLUTION.
+
+    A state is a pair: the TILES of the SOLUTION as bits, and the tuple of the TIMES of all BLOCKS.
+    """
 
     def __init__(self, field, laying):
         self.word = "floor"
         self.field = field
         self.squares = squares_of(field)
-        self.least = self._least_by(laying)
-        self.least_heights = heights_in(field, self.least)
+        self.spots = {block: spot for spot, block in enumerate(self.squares)}
+        self.tiles = tiles_of(field)
+        self.bits = {tile: 1 << spot for spot, tile in enumerate(self.tiles)}
+        # For each BLOCK the bits of its TILES ahead of being turned on, and behind it.
+        self.offs = [self._mask_of(tiles_when(block, False)) for block in self.squares]
+        self.ons = [self._mask_of(tiles_when(block, True)) for block in self.squares]
+        self.least_mask, _ = self._turned_back(self._mask_of(laying))
+        self.least = self._laying_of(self.least_mask)
 
-    def _least_by(self, laying):
-        """The LEAST SOLUTION, any one being told."""
+    def _mask_of(self, tiles):
+        return sum([self.bits[tile] for tile in tiles])
+
+    def _laying_of(self, mask):
+        # The bits of TILES ascend as these do.
+        return tuple([tile for spot, tile in enumerate(self.tiles) if mask >> spot & 1])
+
+    def _turned_back(self, mask):
+        """The LEAST SOLUTION's bits, those of any one being told, and the TIMES of all BLOCKS in this."""
+        times = [0] * len(self.ons)
         found = True
         while found:
             found = False
-            for block in self.squares:
-                if way_of_block(laying, block) == way_when_on(block):
-                    laying = block_about(laying, block)
+            for spot, on in enumerate(self.ons):
+                if mask & on == on:
+                    mask ^= on | self.offs[spot]
+                    times[spot] += 1
                     found = True
-        return laying
+        return mask, tuple(times)
 
     def is_solution(self, value):
         """Whether what plain() told is a SOLUTION."""
         return is_laying_of(self.field, value)
 
-    def times_at(self, solution):
-        """The dict of the TIMES of each BLOCK in the SOLUTION."""
-        heights = heights_in(self.field, solution)
-        times = {}
-        for block in self.squares:
-            point = (block[0] + 1, block[1] + 1)
-            times[block] = (heights[point] - self.least_heights[point]) // 4
-        return times
+    def first_state(self):
+        """The state of the LEAST SOLUTION."""
+        return self.least_mask, (0,) * len(self.squares)
 
-    def turns_at(self, solution):
-        """All TURNS that can be done at the SOLUTION."""
-        times = self.times_at(solution)
+    def state_of(self, solution):
+        """The state of the SOLUTION."""
+        mask = self._mask_of(solution)
+        return mask, self._turned_back(mask)[1]
+
+    def told(self, state):
+        """The SOLUTION with this state."""
+        return self._laying_of(state[0])
+
+    def times_of_block(self, solution, block):
+        """The TIMES of the BLOCK in the SOLUTION."""
+        return self.state_of(solution)[1][self.spots[block]]
+
+    def turns_at(self, state):
+        """All TURNS that can be done at the SOLUTION with this state."""
+        mask, times = state
         return [
-            block + (times[block],) for block in self.squares
-            if way_of_block(solution, block) not in (None, way_when_on(block))
+            self.squares[spot] + (times[spot],) for spot, off in enumerate(self.offs)
+            if mask & off == off
         ]
 
-    def has_turn(self, solution, turn):
-        """Whether the TURN can be done at the SOLUTION."""
-        return turn in self.turns_at(solution)
+    def has_turn(self, state, turn):
+        """Whether the TURN can be done at the SOLUTION with this state."""
+        mask, times = state
+        spot = self.spots[turn[:2]]
+        return times[spot] == turn[2] and mask & self.offs[spot] == self.offs[spot]
 
-    def after(self, solution, turn):
-        """The SOLUTION to which a TURN that can be done leads."""
-        return block_about(solution, turn[:2])
+    def after(self, state, turn):
+        """The state of the SOLUTION to which a TURN that can be done leads."""
+        mask, times = state
+        spot = self.spots[turn[:2]]
+        return mask ^ (self.offs[spot] | self.ons[spot]), times[:spot] + (times[spot] + 1,) + times[spot + 1:]
 
-    def has_done(self, solution, turn):
-        """Whether the TURN is one of those that lead to the SOLUTION."""
-        return self.times_at(solution)[turn[:2]] > turn[2]
+    def has_done(self, state, turn):
+        """Whether the TURN is one of those that lead to the SOLUTION with this state."""
+        return state[1][self.spots[turn[:2]]] > turn[2]
 
 
 def squares_of(field):
     """All BLOCKS of the FIELD, ascending."""
-    return tuple([cell for cell in field if all([other in field for other in square_at(cell)])])
+    inside = {cell: True for cell in field}
+    return tuple([cell for cell in field if all([other in inside for other in square_at(cell)])])
 
 
 def square_at(block):
@@ -84,6 +115,11 @@ def standing_tiles(block):
     return ((first, third), (second, fourth))
 
 
+def tiles_when(block, on):
+    """The two TILES that have its CELLS when it has been turned on, or when it can be."""
+    return standing_tiles(block) if is_dark(block) == on else lying_tiles(block)
+
+
 def way_of_block(laying, block):
     """Whether the BLOCK is lying or standing in the LAYING, None if it is neither."""
     if all([tile in laying for tile in lying_tiles(block)]):
@@ -91,11 +127,6 @@ def way_of_block(laying, block):
     if all([tile in laying for tile in standing_tiles(block)]):
         return "standing"
     return None
-
-
-def way_when_on(block):
-    """What the BLOCK is when it has been turned on."""
-    return "standing" if is_dark(block) else "lying"
 
 
 def block_about(laying, block):
@@ -114,7 +145,7 @@ def floor_world(world):
     field = world[1]
     if not is_field(field):
         raise BadWorld("field")
-    layings = layings_of(field)
-    if not layings:
+    laying = first_laying(field)
+    if laying is None:
         raise BadWorld("none")
-    return FloorWorld(field, layings[0])
+    return FloorWorld(field, laying)

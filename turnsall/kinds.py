@@ -12,19 +12,19 @@ def plain(value):
 
 
 def _copied(value, budget, deep):
-    # One tuple that stands in many places could grow beyond all bounds, so the things are counted.
-    budget[0] -= 1
-    if value is None or budget[0] < 0:
-        return None if value is None else ALIEN
+    if isinstance(value, tuple):
+        # One tuple that stands in many places could grow beyond all bounds, so the things are counted.
+        budget[0] -= len(value)
+        if deep == 0 or budget[0] < 0:
+            return ALIEN
+        return tuple([_copied(thing, budget, deep - 1) for thing in value])
     if isinstance(value, bool):
         return ALIEN
     if isinstance(value, int):
         return int(value)
     if isinstance(value, str):
         return "".join([value])
-    if isinstance(value, tuple) and deep > 0:
-        return tuple([_copied(thing, budget, deep - 1) for thing in value])
-    return ALIEN
+    return None if value is None else ALIEN
 
 
 # The functions below are for values that plain() told: there True and False are no more.

@@ -1,6 +1,7 @@
 """WORLDS of nets."""
 
 from turnsall.errors import BadWorld
+from turnsall.frames import WorldFrame
 from turnsall.kinds import is_ascending, is_lot, is_number, is_tuple_of
 from turnsall.netflows import greatest_flow, leads_by
 
@@ -9,7 +10,7 @@ MOST_PIPES = 200
 MOST_ROOM = 100
 
 
-class NetWorld:
+class NetWorld(WorldFrame):
     """A WORLD of a net: its LEAST SOLUTION, its PIECES, and what can be done at each SOLUTION."""
 
     def __init__(self, places, pipes):

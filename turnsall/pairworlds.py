@@ -1,12 +1,13 @@
 """WORLDS of pairs."""
 
 from turnsall.errors import BadWorld
+from turnsall.frames import WorldFrame
 from turnsall.kinds import is_number, is_row_of, is_tuple_of
 
 MOST_ONES = 12
 
 
-class PairWorld:
+class PairWorld(WorldFrame):
     """A WORLD of pairs: its LEAST SOLUTION, and what can be done at each SOLUTION."""
 
     def __init__(self, ones, others):

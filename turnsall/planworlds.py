@@ -1,6 +1,7 @@
 """WORLDS of plans."""
 
 from turnsall.errors import BadWorld
+from turnsall.frames import WorldFrame
 from turnsall.kinds import is_ascending, is_number, is_tuple_of
 from turnsall.roads import all_lengths, ring_below
 
@@ -9,7 +10,7 @@ MOST_BOUNDS = 60
 FARTHEST = 1000
 
 
-class PlanWorld:
+class PlanWorld(WorldFrame):
     """A WORLD of a plan: its LEAST SOLUTION, its GROUPS, and what can be done at each SOLUTION.
 
     The clock has the number behind those of the jobs.

@@ -1,6 +1,12 @@
 """POINTS, STEPS and HEIGHTS of FIELDS; what is here takes plain right values alone."""
 
 from turnsall.fields import cells_beside, has_as_many, is_dark, is_laying_of
+from turnsall.kinds import is_number, is_tuple_of
+
+LAST_CORNER = 6
+# How many of both hands' CELLS are in the FIELD: by a BORDER STEP, and by any STEP.
+BORDER_HANDS = (1,)
+ALL_HANDS = (1, 2)
 
 
 def points_in(field):
@@ -21,15 +27,29 @@ def hands_of(point, goal):
     return (row - 1, column), (row - 1, column - 1)
 
 
+def is_step(field, point, goal):
+    """Whether a STEP leads from the POINT to the one beside it."""
+    right, left = hands_of(point, goal)
+    return right in field or left in field
+
+
 def steps_in(field):
     """All STEPS as pairs (POINT, POINT)."""
-    steps = []
-    for point in points_in(field):
-        for goal in cells_beside(point):
-            right, left = hands_of(point, goal)
-            if right in field or left in field:
-                steps.append((point, goal))
-    return steps
+    inside = inside_of(field)
+    return [
+        (point, goal) for point in points_in(field) for goal in cells_beside(point)
+        if is_step(inside, point, goal)
+    ]
+
+
+def inside_of(field):
+    """The dict of the CELLS, each with True: it can be passed as the FIELD where cells are only looked for."""
+    return {cell: True for cell in field}
+
+
+def is_point(value):
+    """Whether what plain() told is a pair that can be a POINT of some FIELD."""
+    return is_tuple_of(value, 2) and is_number(value[0], 0, LAST_CORNER) and is_number(value[1], 0, LAST_CORNER)
 
 
 def is_border_step(field, point, goal):
@@ -56,28 +76,26 @@ def greatest_rise(field, point, goal):
 
 def heights_in(field, laying):
     """The dict of the HEIGHT of each POINT in the LAYING."""
-    tiles = {tile: True for tile in laying}
-    return _heights_along([(step, rise_of(tiles, step[0], step[1])) for step in steps_in(field)])
+    return _heights_by(field, {tile: True for tile in laying}, ALL_HANDS)
 
 
 def heights_of_border(field):
     """The dict of the HEIGHT of each POINT of the BORDER; None of a FIELD with unlike numbers of CELLS."""
-    if not has_as_many(field):
-        return None
-    steps = [step for step in steps_in(field) if is_border_step(field, step[0], step[1])]
-    return _heights_along([(step, rise_of({}, step[0], step[1])) for step in steps])
+    return _heights_by(field, {}, BORDER_HANDS) if has_as_many(field) else None
 
 
-def _heights_along(rises):
-    """The dict of what STEPS with these RISES rise from the least POINT, the STEPS being ascending."""
-    heights = {rises[0][0][0]: 0}
-    found = True
-    while found:
-        found = False
-        for (point, goal), rise in rises:
-            if point in heights and goal not in heights:
-                heights[goal] = heights[point] + rise
-                found = True
+def _heights_by(field, tiles, hands):
+    """The dict of what STEPS rise from the least POINT, by those that have as many CELLS of the FIELD at their hands."""
+    inside = inside_of(field)
+    # The least POINT is the upper left corner of the least CELL.
+    heights = {field[0]: 0}
+    reached = [field[0]]
+    while reached:
+        point = reached.pop()
+        for goal in cells_beside(point):
+            if goal not in heights and len([hand for hand in hands_of(point, goal) if hand in inside]) in hands:
+                heights[goal] = heights[point] + rise_of(tiles, point, goal)
+                reached.append(goal)
     return heights
 
 

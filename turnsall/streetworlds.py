@@ -1,12 +1,13 @@
 """WORLDS of streets."""
 
 from turnsall.errors import BadWorld
+from turnsall.frames import WorldFrame
 from turnsall.kinds import is_number, is_tuple_of
 from turnsall.roads import all_lengths
 from turnsall.towns import MOST_SIZE, are_outs, are_ways, ends_of, outs_by, sides_of, ways_or_corners
 
 
-class StreetWorld:
+class StreetWorld(WorldFrame):
     """A WORLD of streets: its LEAST SOLUTION, its GROUPS, and what can be done at each SOLUTION.
 
     The outside has the number behind those of the blocks.

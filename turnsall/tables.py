@@ -21,16 +21,16 @@ class TurnTable:
     def __init__(self, frame):
         self.frame = frame
         self.turns = []
-        solution = frame.least
-        ready = frame.turns_at(solution)
+        state = frame.first_state()
+        ready = frame.turns_at(state)
         while ready:
             if len(self.turns) == MOST_TURNS:
                 raise TooMany(MOST_TURNS)
             turn = min(ready)
             self.turns.append(turn)
-            solution = frame.after(solution, turn)
-            ready = frame.turns_at(solution)
-        self.greatest = solution
+            state = frame.after(state, turn)
+            ready = frame.turns_at(state)
+        self.greatest = frame.told(state)
 
     def bare_order(self):
         """The ORDER of the WORLD."""
@@ -42,33 +42,38 @@ class TurnTable:
 
     def _missed_without(self, number):
         """The numbers of the other TURNS that no row of TURNS without this one leads to."""
-        solution = self.frame.least
+        state = self.frame.first_state()
         missed = []
         # What is ahead of a TURN has a lesser number, so to go through them once is enough.
         for other, turn in enumerate(self.turns):
             if other == number:
                 continue
-            if self.frame.has_turn(solution, turn):
-                solution = self.frame.after(solution, turn)
+            if self.frame.has_turn(state, turn):
+                state = self.frame.after(state, turn)
             else:
                 missed.append(other)
         return missed
 
     def lower_at(self, solution):
         """The LOWER of the SOLUTION."""
-        return tuple([number for number, turn in enumerate(self.turns) if self.frame.has_done(solution, turn)])
+        state = self.frame.state_of(solution)
+        return tuple([number for number, turn in enumerate(self.turns) if self.frame.has_done(state, turn)])
 
     def solution_at(self, lower):
         """The SOLUTION with the LOWER."""
-        solution = self.frame.least
+        state = self.frame.first_state()
         for number in lower:
-            solution = self.frame.after(solution, self.turns[number])
-        return solution
+            state = self.frame.after(state, self.turns[number])
+        return self.frame.told(state)
 
     def ready_at(self, solution):
         """The ascending tuple of the numbers of the TURNS that can be done at the SOLUTION."""
-        ready = self.frame.turns_at(solution)
+        ready = self.frame.turns_at(self.frame.state_of(solution))
         return tuple([number for number, turn in enumerate(self.turns) if turn in ready])
+
+    def turned_at(self, solution, number):
+        """The SOLUTION to which a TURN leads that can be done."""
+        return self.frame.told(self.frame.after(self.frame.state_of(solution), self.turns[number]))
 
     def wanted_solution(self, thing):
         """The SOLUTION; BadSolution."""

@@ -37,5 +37,5 @@ def standing_in(field, laying):
 def times_of(world, solution, block):
     """How often the BLOCK was turned on since the LEAST SOLUTION."""
     table = table_of_word(world, "floor")
-    times = table.frame.times_at(table.wanted_solution(solution))
-    return times[wanted_block(table.frame.field, block)]
+    solution = table.wanted_solution(solution)
+    return table.frame.times_of_block(solution, wanted_block(table.frame.field, block))

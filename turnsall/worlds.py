@@ -65,7 +65,7 @@ def turned(world, solution, number):
     plain_number = table.wanted_turn(number)
     if plain_number not in table.ready_at(solution):
         raise BadTurn(number)
-    return table.frame.after(solution, table.turns[plain_number])
+    return table.turned_at(solution, plain_number)
 
 
 def all_solutions(world):
