@@ -85,7 +85,7 @@ def heights_of_border(field):
 
 
 def _heights_by(field, tiles, hands):
-    """The dict of what STEPS rise from the least POINT, by those that have as many CELLS of the FIELD at their hands."""
+    """The dict of what STEPS rise from the least POINT, by those with so many CELLS at their hands."""
     inside = inside_of(field)
     # The least POINT is the upper left corner of the least CELL.
     heights = {field[0]: 0}
