@@ -87,16 +87,33 @@ def tiles_of(field):
 
 def layings_of(field):
     """All LAYINGS, ascending."""
-    found = []
-    _add_layings(_ways_by_cell(field), _all_bare(field), (), found, None)
-    return tuple(found)
+    return tuple(_layings_from(_ways_by_cell(field), _all_bare(field), {0: [()]}))
+
+
+def _layings_from(ways, bare, known):
+    """All that lays the CELLS of the bits that are bare, ascending; known has what was found, by these bits."""
+    if bare not in known:
+        found = []
+        for both, tile in _ways_at(ways, bare):
+            found.extend([(tile,) + rest for rest in _layings_from(ways, bare & ~both, known)])
+        known[bare] = found
+    return known[bare]
 
 
 def first_laying(field):
     """The least LAYING, None if there is none."""
-    found = []
-    _add_layings(_ways_by_cell(field), _all_bare(field), (), found, 1)
-    return found[0] if found else None
+    return _first_from(_ways_by_cell(field), _all_bare(field))
+
+
+def _first_from(ways, bare):
+    """The least of all that lays the CELLS of the bits that are bare, None if nothing does."""
+    if bare == 0:
+        return ()
+    for both, tile in _ways_at(ways, bare):
+        rest = _first_from(ways, bare & ~both)
+        if rest is not None:
+            return (tile,) + rest
+    return None
 
 
 def _all_bare(field):
@@ -113,12 +130,6 @@ def _ways_by_cell(field):
     return ways
 
 
-def _add_layings(ways, bare, laid, found, most):
-    """LAYINGS that begin with the TILES laid, the bits of the CELLS that are bare being left, as long as most lack."""
-    if bare == 0:
-        found.append(laid)
-        return
-    # The least CELL that is bare can go with the one to the right, or the one below, alone.
-    for both, tile in ways[bare & -bare]:
-        if both & bare == both and len(found) != most:
-            _add_layings(ways, bare & ~both, laid + (tile,), found, most)
+def _ways_at(ways, bare):
+    """The ways to lay the least CELL that is bare: with the one to the right or the one below alone."""
+    return [(both, tile) for both, tile in ways[bare & -bare] if both & bare == both]

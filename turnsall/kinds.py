@@ -12,16 +12,15 @@ def plain(value):
 
 
 def _copied(value, budget, deep):
+    # Most things are integers, so these are looked for first.
+    if isinstance(value, int):
+        return ALIEN if isinstance(value, bool) else int(value)
     if isinstance(value, tuple):
         # One tuple that stands in many places could grow beyond all bounds, so the things are counted.
         budget[0] -= len(value)
         if deep == 0 or budget[0] < 0:
             return ALIEN
         return tuple([_copied(thing, budget, deep - 1) for thing in value])
-    if isinstance(value, bool):
-        return ALIEN
-    if isinstance(value, int):
-        return int(value)
     if isinstance(value, str):
         return "".join([value])
     return None if value is None else ALIEN
