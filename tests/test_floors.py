@@ -35,6 +35,13 @@ def does_bar(field, walk):
     return sum(rises[step] for step in zip(walk, walk[1:])) < heights[walk[-1]] - heights[walk[0]]
 
 
+def beside(point):
+    """The four pairs beside one that can be POINTS, each in a tuple of its own."""
+    row, column = point
+    near = [(row + 1, column), (row - 1, column), (row, column + 1), (row, column - 1)]
+    return [(pair,) for pair in near if 0 <= min(pair) and max(pair) <= 6]
+
+
 class Floors(unittest.TestCase):
 
     def test_need_field(self):
@@ -72,7 +79,8 @@ class Floors(unittest.TestCase):
         for value in junk() + [
             None, list(first), first[::-1], first[:-1], first + first[-1:], tuple(map(list, first)), tuple(tile[::-1] for tile in first),
             (((0, 0), (1, 1)), ((0, 1), (1, 0)), ((0, 2), (1, 2))), (((0, 0), (0, True)),) + first[1:], first[:2] + (None,),
-            first[:2] + (Thing(),), first[:2] + ((Same(), Same()),), first[:2] + (((1, 2), (1, 3)),),
+            first[:2] + (Thing(),), first[:2] + ((Same(), Same()),), first[:2] + (((1, 2), (1, 3)),), first[:2] + ((None, (1, 2)),),
+            first[:2] + (("12", (1, 2)),), first[:2] + (((1,), (1, 2)),), first[:2] + (((1, "1"), (1, 2)),), first[:2] + (((1, 1), None),),
         ]:
             self.assertIs(is_laying(field, value), False, value)
 
@@ -112,18 +120,43 @@ class Papers(unittest.TestCase):
                     held += due[0] is None
         self.assertGreater(held, 20)
 
+    def test_what_is_no_step(self):
+        for field in BARRED:
+            border = sorted(rises_tried(field)[1])
+            points = [(row, column) for row in range(7) for column in range(7)]
+            # Also by POINTS of other FIELDS, and from one to another one that is not beside it.
+            walks = [(point,) for point in border]
+            for _ in range(3):
+                walks = [walk + goal for walk in walks for goal in beside(walk[-1])]
+                for walk in walks[::1 + len(walks) // 3000]:
+                    due = (None, "walk") if does_bar(field, walk) else ("BadPaper", {"part": "walk"})
+                    self.assertEqual(raised(check_laying, field, ("walk", walk)), due)
+            jumps = [(start, goal) for start in border for goal in border]
+            jumps += [(start, point, goal) for start in border[::2] for point in points[::3] for goal in border[::3]]
+            for walk in jumps:
+                due = (None, "walk") if does_bar(field, walk) else ("BadPaper", {"part": "walk"})
+                self.assertEqual(raised(check_laying, field, ("walk", walk)), due)
+
     def test_long_walks(self):
-        field = BARRED[0]
-        walk = laying_paper(field)[1]
-        # To and fro along the border changes nothing, up to 99 POINTS.
-        steps = steps_tried(field)
-        near = [goal for (start, goal), (right, left) in steps.items()
-                if start == walk[0] and (right in field) != (left in field)][0]
-        for many in (1, 20, (99 - len(walk)) // 2):
-            long = (walk[0], near) * many + walk
-            self.assertLess(len(long), 100)
-            self.assertEqual(check_laying(field, ("walk", long)), "walk")
-        self.assertEqual(raised(check_laying, field, ("walk", (walk[0], near) * 49 + walk)), ("BadPaper", {"part": "walk"}))
+        longest = set()
+        for field in BARRED:
+            heights = rises_tried(field)[1]
+            border = {step for step, (right, left) in steps_tried(field).items() if (right in field) != (left in field)}
+            walk = laying_paper(field)[1]
+            # One STEP along the border changes nothing, and makes the number of POINTS odd or even.
+            onward = [goal for start, goal in border if start == walk[-1]][0]
+            near = [goal for start, goal in border if start == walk[0]][0]
+            for told in (walk, walk + (onward,)):
+                self.assertIn(told[-1], heights)
+                # To and fro along the border changes nothing, up to 99 POINTS.
+                for many in (1, 20, (99 - len(told)) // 2):
+                    long = (told[0], near) * many + told
+                    longest.add(len(long))
+                    self.assertEqual(check_laying(field, ("walk", long)), "walk")
+                long = (told[0], near) * ((101 - len(told)) // 2) + told
+                self.assertIn(len(long), (100, 101))
+                self.assertEqual(raised(check_laying, field, ("walk", long)), ("BadPaper", {"part": "walk"}))
+        self.assertEqual(max(longest), 99)
 
     def test_bent_papers(self):
         field = BARRED[0]
@@ -135,7 +168,8 @@ class Papers(unittest.TestCase):
             self.assertEqual(raised(check_laying, field, paper), ("BadPaper", {"part": "form"}), paper)
         for value in junk() + [
             None, list(walk), walk[::-1], walk[:1], (), walk + (None,), walk + (Thing(),), tuple(map(list, walk)), walk + walk,
-            ((0, 0), (0, 1)), walk + ((True, 0),), (Same(), Same()),
+            ((0, 0), (0, 1)), walk + ((True, 0),), (Same(), Same()), ((True, 0),) + walk, (("a", 0),) + walk, ((0, "b"),) + walk,
+            ((None, None),) + walk, ((0,),) + walk, (((0, 0), 0),) + walk, ((7, 0),) + walk, ((0, -1),) + walk, (0,) + walk,
         ]:
             self.assertEqual(raised(check_laying, field, ("walk", value)), ("BadPaper", {"part": "walk"}), value)
         for value in junk() + [None, (), [], ((0, 0), (0, 1)), layings_tried(square(2, 3))[0]]:

@@ -2,7 +2,7 @@ import itertools
 import math
 import unittest
 
-from helper import Same, Thing, is_plain, junk, lowers, raised, small_orders, some_order, strange
+from helper import Same, Thing, is_plain, junk, lots, lowers, raised, small_orders, some_order, strange
 from turnsall.shortways import far_from, first_way, is_short, is_way, way_at, way_count, ways_through
 
 ORDER = (4, ((0, 1), (1, 2)))
@@ -111,7 +111,7 @@ class Ways(unittest.TestCase):
         for order in [(2, ()), (2, ((0, 1),)), (3, ((0, 2),))]:
             right = lowers(order)
             for size in range(4):
-                for way in itertools.product(right + [(order[0],), (1, 0)], repeat=size):
+                for way in itertools.product(lots(order[0]) + [(order[0],), (1, 0)], repeat=size):
                     good = size > 0 and all(lower in right for lower in way) and all(far(a, b) == 1 for a, b in zip(way, way[1:]))
                     self.assertIs(is_way(order, way), good)
                     self.assertIs(is_short(order, way), good and far(way[0], way[-1]) == size - 1)

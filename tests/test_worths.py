@@ -195,6 +195,10 @@ class Papers(unittest.TestCase):
             self.assertEqual(raised(check_dear, ORDER, WORTHS, -99, ("dear", value)), ("BadPaper", {"part": "dear"}), value)
         self.assertIs(is_flow(ORDER, WORTHS, ((1, 0, 2), (2, 0, 1))), True)
         self.assertIs(is_flow(ORDER, WORTHS, ()), True)
+        # From an item above 0 alone, and to one below 0 alone.
+        row = (4, ((0, 1), (1, 2), (2, 3)))
+        for flow, good in ((((1, 0, 1),), False), (((3, 2, 1),), False), (((2, 0, 1), (2, 1, 1)), True), (((3, 0, 1),), True)):
+            self.assertIs(is_flow(row, (-2, -1, 3, 2), flow), good)
         self.assertEqual(check_dear(ORDER, WORTHS, 8, ("none", ())), "none")
         self.assertEqual(raised(check_dear, ORDER, WORTHS, 7, ("none", ())), ("BadPaper", {"part": "none"}))
 
