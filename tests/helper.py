@@ -1,5 +1,6 @@
 """What several tests need: values of every kind, what a call comes to, and trying out on small orders and worlds."""
 
+import functools
 import itertools
 import random
 
@@ -280,6 +281,7 @@ def outs_tried(rows, columns, ways):
     return tuple(outs)
 
 
+@functools.lru_cache(maxsize=None)
 def ways_tried(rows, columns, outs):
     """All WAYS by which the OUTS are so, by trying street by street."""
     streets = town(rows, columns)
@@ -302,7 +304,7 @@ def ways_tried(rows, columns, outs):
                 go_on(ways + [way], rest)
 
     go_on([], list(outs))
-    return found
+    return tuple(found)
 
 
 def hands_tried(world, ways):
