@@ -616,3 +616,35 @@ def some_net(seed, places, chance):
         if dice.randrange(100) < chance:
             pipes.append((start, goal, dice.choice((0, 1, 1, 1, 2))))
     return ("net", places, tuple(pipes))
+
+
+# Pins.
+
+
+BAD_PINS = [
+    None, (), ((),), ((), (), ()), [(), ()], ((), []), ([], ()), ((), None), (0, 1), ("", ""), ("0", "1"), ((True,), ()), ((), (False,)),
+    ((0, 0), ()), ((), (2, 1)), ((-1,), ()), ((), (9,)), (((0,),), ()), ({0}, ()), ((None,), ()), ((Same(),), ()), ((), (Thing(),)),
+]
+
+
+def fits_tried(order, pins):
+    """All LOWERS that fit PINS, ascending, by trying out."""
+    inside, outside = pins
+    return [lower for lower in lowers(order) if set(inside) <= set(lower) and not set(outside) & set(lower)]
+
+
+def some_pins(order, count):
+    """PINS of the ORDER, those without items and all that an item is put into among them; some clash."""
+    dice = random.Random(order[0] + len(order[1]))
+    found = [((), ())]
+    for item in range(order[0]):
+        found += [((item,), ()), ((), (item,)), ((item,), (item,))]
+    while len(found) < count:
+        chosen = [dice.choice("  io") for _ in range(order[0])]
+        found.append(tuple(tuple(item for item, word in enumerate(chosen) if word == each) for each in "io"))
+    return found[:count]
+
+
+def good_pins(order, count):
+    """PINS as above that do not clash."""
+    return [pins for pins in some_pins(order, count) if fits_tried(order, pins)]

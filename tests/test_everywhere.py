@@ -8,6 +8,8 @@ from helper import Same, Thing, is_plain, junk, raised, square, strange, swapped
 
 ORDER = (4, ((0, 1), (1, 2)))
 WORTHS = (-2, 5, -1, 0)
+PINS = ((1,), ())
+WEIGHTS = ((0, 3), (1, -2))
 PAIRS = turning_pairs(3)
 TOWN = ("streets", 2, 2, (1, 1, 1, 1, 4, 1, 1, 1, 1))
 PLAN = ("plan", ((0, 2), (0, 2)), ((0, 1, 0),))
@@ -141,6 +143,37 @@ RIGHT = {
         "made_by": ["Order Worths Carry", ORDER, WORTHS, ((0, 1, (7, 2)),)],
         "does_fall": ["Order Worths Carry", ORDER, WORTHS, ((0, 1, (7, 2)),)],
     },
+    "prices": {
+        "need_weights": ["World Weights", PLAN, WEIGHTS], "price_of": ["World Weights Solution", PLAN, WEIGHTS, (1, 0)],
+        "turn_prices": ["World Weights", PLAN, WEIGHTS], "dearest_solution": ["World Weights", PLAN, WEIGHTS],
+        "cheapest_solution": ["World Weights", PLAN, WEIGHTS],
+    },
+    "pins": {
+        "do_clash": ["Order Pins", ORDER, PINS], "does_fit": ["Order Pins Lower", ORDER, PINS, (0,)], "sure_in": ["Order Pins", ORDER, PINS],
+        "sure_out": ["Order Pins", ORDER, PINS], "open_items": ["Order Pins", ORDER, PINS],
+        "nearest": ["Order Pins Lower", ORDER, PINS, (0,)],
+    },
+    "counts": {
+        "how_many": ["Order Pins", ORDER, PINS], "sizes": ["Order Pins", ORDER, PINS], "chance": ["Order Pins Item", ORDER, PINS, 2],
+        "four_of": ["Order Pins Item Item", ORDER, PINS, 2, 0],
+    },
+    "countpapers": {
+        "count_paper": ["Order", ORDER],
+        "check_count": ["Order Paper", ORDER, ("apart", ((0, 1, 2), (3,)), (("row",), ("item", 0, ("loose",), ("row",))))],
+    },
+    "numbers": {
+        "number_of": ["Order Lower", ORDER, (0, 3)], "lower_at": ["Order Number", ORDER, 7],
+        "solution_number": ["World Solution", PLAN, (1, 0)], "solution_at": ["World Number", PLAN, 3], "solution_count": ["World", PLAN],
+    },
+    "asks": {
+        "best_ask": ["Order Pins", ORDER, PINS], "fewest_asks": ["Order Pins", ORDER, PINS], "ask_tree": ["Order Pins", ORDER, PINS],
+        "check_asks": ["Order Pins Paper", ORDER, ((1,), (3,)), ("ask", 2, ("is", (0, 1, 2)), ("is", (0, 1)))],
+    },
+    "stairs": {
+        "is_map": ["Order Number -", ORDER, 3, (0, 0, 1, 0)], "is_strict": ["Order Number -", ORDER, 3, (0, 1, 2, 0)],
+        "map_count": ["Order Number", ORDER, 3], "strict_count": ["Order Number", ORDER, 3], "falls": ["Order", ORDER], "line": ["Order", ORDER],
+    },
+    "aspairs": {"edges_of": ["Order", ORDER], "as_pairs": ["Order", ORDER], "turn_items": ["Order", ORDER]},
     "floors": {
         "need_field": ["Field", FIELD], "is_laying": ["Field -", FIELD, LAID], "all_layings": ["Field", FIELD],
         "laying_paper": ["Field", FIELD], "check_laying": ["Field Paper", FIELD, ("laid", LAID)],

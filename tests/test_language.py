@@ -24,7 +24,7 @@ WORDS = set("""type typing typing_extensions enum Enum IntEnum StrEnum Flag IntF
 NamedTuple TypedDict TYPE_CHECKING abstractmethod""".split())
 NODES = (
     ast.AsyncFunctionDef, ast.Await, ast.AsyncFor, ast.AsyncWith, ast.Global, ast.Match, ast.Import, ast.Starred,
-    ast.GeneratorExp, ast.SetComp, ast.JoinedStr, ast.NamedExpr, ast.Try, ast.With, ast.Lambda, ast.Nonlocal, ast.AnnAssign,
+    ast.GeneratorExp, ast.SetComp, ast.NamedExpr, ast.Try, ast.With, ast.Lambda, ast.Nonlocal, ast.AnnAssign,
     ast.Yield, ast.YieldFrom, ast.Div, ast.MatMult,
 )
 
@@ -159,6 +159,9 @@ class Language(unittest.TestCase):
                     self.assertNotIsInstance(node.op, ast.Pow)
                 if isinstance(node, ast.Set):
                     self.fail((name, node.lineno))
+                if isinstance(node, ast.FormattedValue):
+                    self.assertIsInstance(node.value, ast.Name)
+                    self.assertTrue(node.format_spec is None or node.format_spec.values[0].value == "b")
 
     def test_calls(self):
         methods = set()

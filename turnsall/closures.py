@@ -26,6 +26,19 @@ def is_within(mask, whole):
     return mask & whole == mask
 
 
+def size_of(mask):
+    """How many bits there are."""
+    return f"{mask:b}".count("1")
+
+
+def with_all(masks, mask):
+    """The bits of these items and of all that the masks, one for each item, have for them."""
+    whole = mask
+    for item in lot_of(mask):
+        whole |= masks[item]
+    return whole
+
+
 def masks_ahead(order):
     """For each item the bits of all items that are ahead of it."""
     many, pairs = order

@@ -1,6 +1,6 @@
 """What is dearest of an ORDER by WORTHS, found by a FLOW that leaves as little as can be."""
 
-from turnsall.closures import has_bit, lot_of, mask_of
+from turnsall.closures import has_bit, lot_of, mask_of, with_all
 from turnsall.netflows import greatest_flow
 
 
@@ -63,15 +63,7 @@ def _closed_leads(ahead, flow):
     for item, other, _ in flow:
         leads[other] |= 1 << item
     while True:
-        wider = [_with_led(leads, mask) for mask in leads]
+        wider = [with_all(leads, mask) for mask in leads]
         if wider == leads:
             return leads
         leads = wider
-
-
-def _with_led(leads, mask):
-    """The bits of these items and of all that they lead to."""
-    wider = mask
-    for item in lot_of(mask):
-        wider |= leads[item]
-    return wider

@@ -1,6 +1,6 @@
 """Levels of WORTHS, the FALL, and CARRIES that make it."""
 
-from turnsall.closures import has_bit, lot_of, mask_of, masks_ahead
+from turnsall.closures import has_bit, lot_of, mask_of, masks_ahead, size_of
 from turnsall.dearest import Dearest
 from turnsall.errors import BadCarry
 from turnsall.kinds import is_ascending, is_number, is_tuple_of, plain
@@ -62,7 +62,7 @@ def _next_level(ahead, worths, rest):
     """The bits of the level that comes first of those that are left, and its MEAN."""
     mask = rest
     while True:
-        mean = ratio(sum([worths[item] for item in lot_of(mask)]), len(lot_of(mask)))
+        mean = ratio(sum([worths[item] for item in lot_of(mask)]), size_of(mask))
         dearest = _dearest_beyond(ahead, worths, rest, mean)
         mask = dearest.greatest_mask & rest
         # What is worth nothing beyond the MEAN has just this one, and no lot has a greater one.

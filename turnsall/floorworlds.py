@@ -49,6 +49,14 @@ class FloorWorld(WorldFrame):
         """Whether what plain() told is a SOLUTION."""
         return is_laying_of(self.field, value)
 
+    def is_thing(self, value):
+        """Whether what plain() told is a TILE of CELLS of the FIELD."""
+        return value in self.tiles
+
+    def counts_at(self, solution):
+        """Once each TILE."""
+        return {tile: 1 for tile in solution}
+
     def first_state(self):
         """The state of the LEAST SOLUTION."""
         return self.least_mask, (0,) * len(self.squares)

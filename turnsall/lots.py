@@ -1,6 +1,6 @@
 """LOTS of items: what is first and last of them, and all that they need."""
 
-from turnsall.closures import lot_of, mask_of, masks_ahead, masks_behind
+from turnsall.closures import lot_of, mask_of, masks_ahead, masks_behind, with_all
 from turnsall.wanted import wanted_lot, wanted_order
 
 
@@ -25,11 +25,7 @@ def ground(order, lot):
     """The LOWER of the items of the LOT and of all that are ahead of any of them."""
     order = wanted_order(order)
     lot = wanted_lot(order, lot)
-    ahead = masks_ahead(order)
-    mask = mask_of(lot)
-    for item in lot:
-        mask |= ahead[item]
-    return lot_of(mask)
+    return lot_of(with_all(masks_ahead(order), mask_of(lot)))
 
 
 def is_loose(order, lot):

@@ -1,6 +1,6 @@
 """Told LOWERS: what is nearest to them, what is there by betweens and by middles; what is farthest from one."""
 
-from turnsall.closures import has_bit, lot_of, mask_of, masks_ahead
+from turnsall.closures import has_bit, lot_of, mask_of, masks_ahead, size_of
 from turnsall.dearest import Dearest
 from turnsall.wanted import wanted_lower, wanted_lowers, wanted_order
 
@@ -27,7 +27,7 @@ def sum_from(order, lowers, lower):
     order = wanted_order(order)
     masks = _wanted_masks(order, lowers)
     mask = mask_of(wanted_lower(order, lower))
-    return sum([len(lot_of(mask ^ told)) for told in masks])
+    return sum([size_of(mask ^ told) for told in masks])
 
 
 def between_ends(order, lowers):

@@ -53,6 +53,14 @@ class NetWorld(WorldFrame):
         """Whether what plain() told is a SIDE."""
         return is_lot(value, self.many - 1) and 0 in value
 
+    def is_thing(self, value):
+        """Whether what plain() told is a place."""
+        return is_number(value, 0, self.many - 1)
+
+    def counts_at(self, solution):
+        """Once each place of the SIDE."""
+        return {place: 1 for place in solution}
+
     def has_turn(self, solution, turn):
         """Whether the TURN can be done at the SOLUTION."""
         if turn[0] in solution:

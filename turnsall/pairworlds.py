@@ -67,6 +67,14 @@ class PairWorld(WorldFrame):
         """Whether what plain() told is a SOLUTION."""
         return self.is_pairing(value) and not self.breaking(value)
 
+    def is_thing(self, value):
+        """Whether what plain() told is a pair of a one and an other."""
+        return is_tuple_of(value, 2) and all([is_number(each, 0, self.many - 1) for each in value])
+
+    def counts_at(self, solution):
+        """Once each pair that is together."""
+        return {pair: 1 for pair in enumerate(solution)}
+
     def next_other(self, solution, one):
         """The NEXT of the one, None if there is none."""
         mates = pairing_turned(solution)

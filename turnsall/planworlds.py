@@ -43,6 +43,14 @@ class PlanWorld(WorldFrame):
         """Whether what plain() told is a SOLUTION."""
         return are_times(self.spans, self.bounds, value)
 
+    def is_thing(self, value):
+        """Whether what plain() told is a job."""
+        return is_number(value, 0, self.many - 1)
+
+    def counts_at(self, solution):
+        """Each job as often as its time tells."""
+        return {job: time for job, time in enumerate(solution)}
+
     def later(self, solution, jobs):
         """What has the times of the jobs 1 greater."""
         return tuple([time + 1 if job in jobs else time for job, time in enumerate(solution)])

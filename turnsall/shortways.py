@@ -2,7 +2,7 @@
 
 from math import comb
 
-from turnsall.closures import is_lower_mask, lot_of, mask_of, masks_ahead
+from turnsall.closures import is_lower_mask, lot_of, mask_of, masks_ahead, size_of
 from turnsall.errors import BadNumber, TooMany
 from turnsall.itemrows import rows_of
 from turnsall.kinds import is_lot, is_number, plain
@@ -86,7 +86,7 @@ def _wanted(order, lowers):
 
 
 def _distance(mask, goal):
-    return len(lot_of(mask ^ goal))
+    return size_of(mask ^ goal)
 
 
 def _need_near(mask, goal):
@@ -117,5 +117,5 @@ def _ways_between(ahead, mask, goal, known):
     """How many short WAYS there are; known is the dict of rows_of."""
     gone = mask & ~goal
     come = goal & ~mask
-    turns = comb(_distance(mask, goal), len(lot_of(gone)))
+    turns = comb(_distance(mask, goal), size_of(gone))
     return rows_of(ahead, gone, known) * rows_of(ahead, come, known) * turns

@@ -66,6 +66,14 @@ class StreetWorld(WorldFrame):
             return False
         return outs_by(self.rows, self.columns, value) == self.outs
 
+    def is_thing(self, value):
+        """Whether what plain() told is a street."""
+        return is_number(value, 0, len(self.sides) - 1)
+
+    def counts_at(self, solution):
+        """Once each street that leads to the right, downwards."""
+        return {street: way for street, way in enumerate(solution)}
+
     def heights_at(self, solution):
         """The HEIGHTS of the SOLUTION."""
         heights = [None] * self.many + [0]

@@ -66,6 +66,15 @@ class TurnTable:
             state = self.frame.after(state, self.turns[number])
         return self.frame.told(state)
 
+    def all_done(self):
+        """The SOLUTIONS from the LEAST to the GREATEST one, each but the first by the TURN with the next number."""
+        state = self.frame.first_state()
+        found = [self.frame.told(state)]
+        for turn in self.turns:
+            state = self.frame.after(state, turn)
+            found.append(self.frame.told(state))
+        return found
+
     def ready_at(self, solution):
         """The ascending tuple of the numbers of the TURNS that can be done at the SOLUTION."""
         ready = self.frame.turns_at(self.frame.state_of(solution))
