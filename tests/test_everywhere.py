@@ -13,6 +13,7 @@ WEIGHTS = ((0, 3), (1, -2))
 PAIRS = turning_pairs(3)
 TOWN = ("streets", 2, 2, (1, 1, 1, 1, 4, 1, 1, 1, 1))
 PLAN = ("plan", ((0, 2), (0, 2)), ((0, 1, 0),))
+TERM = ("about", ("pinned", ("world", PLAN), (0,), ()))
 # The LEAST and the GREATEST SOLUTION of TOWN.
 WAYS = (1, 1, 0, 1, 0, 0, 0, 0, 1, 0, 1, 1)
 HIGH = (0, 0, 0, 1, 1, 1, 1, 0, 0, 1, 1, 0)
@@ -174,10 +175,24 @@ RIGHT = {
         "map_count": ["Order Number", ORDER, 3], "strict_count": ["Order Number", ORDER, 3], "falls": ["Order", ORDER], "line": ["Order", ORDER],
     },
     "aspairs": {"edges_of": ["Order", ORDER], "as_pairs": ["Order", ORDER], "turn_items": ["Order", ORDER]},
+    "asothers": {"as_plan": ["Order", ORDER], "as_net": ["Order", ORDER]},
+    "leading": {
+        "are_turned_alike": ["World World", PLAN, PLAN], "led_over": ["World World Solution", PLAN, PLAN, (1, 0)],
+        "alike_paper": ["World World", PLAN, PLAN], "check_alike": ["World World Paper", PLAN, PLAN, ("alike", (0, 2, 1, 3))],
+    },
+    "terms": {
+        "need_term": ["Term", TERM], "order_by": ["Term", TERM], "kids_of": ["Term", TERM], "is_term_solution": ["Term -", TERM, (1, 0)],
+        "lower_by": ["Term Solution", TERM, (1, 0)], "solution_by": ["Term Lower", TERM, (0,)],
+    },
     "floors": {
         "need_field": ["Field", FIELD], "is_laying": ["Field -", FIELD, LAID], "all_layings": ["Field", FIELD],
         "laying_paper": ["Field", FIELD], "check_laying": ["Field Paper", FIELD, ("laid", LAID)],
     },
+}
+# What has tests of its own: it takes or tells HOUSES, or takes strings.
+OTHERS = {
+    "house": "House under led", "worldhouses": "house_of standing go_to solutions_left", "texts": "nest_text read_nest read_term read_order",
+    "judge": "judged", "desk": "Desk",
 }
 
 
@@ -206,6 +221,11 @@ class Everywhere(unittest.TestCase):
             self.assertEqual(call.__code__.co_argcount, len(args))
             self.assertEqual(len(words), len(args))
 
+        for module, names in OTHERS.items():
+            found = importlib.import_module("turnsall." + module)
+            for name in names.split():
+                self.assertEqual(getattr(found, name).__module__, "turnsall." + module)
+
     def test_wrong_arguments_in_their_turn(self):
         """Each argument wrong, all ahead of it right, all behind it wrong, too."""
         zero = 0
@@ -226,6 +246,8 @@ class Everywhere(unittest.TestCase):
                             if word != "Order":
                                 part = "side" if (name, word) == ("nets.check_net", "Paper") else "form"
                         self.assertEqual(fields, {"part": part})
+                    elif word == "Term":
+                        self.assertEqual(fields, {"path": ()})
                     else:
                         self.assertEqual(list(fields), ["given"])
                         self.assertIs(fields["given"], value)

@@ -24,7 +24,7 @@ WORDS = set("""type typing typing_extensions enum Enum IntEnum StrEnum Flag IntF
 NamedTuple TypedDict TYPE_CHECKING abstractmethod""".split())
 NODES = (
     ast.AsyncFunctionDef, ast.Await, ast.AsyncFor, ast.AsyncWith, ast.Global, ast.Match, ast.Import, ast.Starred,
-    ast.GeneratorExp, ast.SetComp, ast.NamedExpr, ast.Try, ast.With, ast.Lambda, ast.Nonlocal, ast.AnnAssign,
+    ast.GeneratorExp, ast.SetComp, ast.NamedExpr, ast.Lambda, ast.Nonlocal, ast.AnnAssign,
     ast.Yield, ast.YieldFrom, ast.Div, ast.MatMult,
 )
 
@@ -119,7 +119,9 @@ class Language(unittest.TestCase):
             for node in ast.walk(tree):
                 if isinstance(node, ast.FunctionDef):
                     self.assertLessEqual(node.end_lineno - node.lineno + 1, 40, (name, node.name))
-                    self.assertEqual(node.decorator_list, [])
+                    if node.decorator_list:
+                        self.assertEqual([each.id for each in node.decorator_list], ["property"])
+                        self.assertEqual([arg.arg for arg in node.args.args], ["self"])
                     self.assert_name(node.name, name)
                     stored = {each.id for each in ast.walk(node) if isinstance(each, ast.Name) and isinstance(each.ctx, ast.Store)}
                     stored |= {arg.arg for arg in node.args.args}
@@ -137,6 +139,7 @@ class Language(unittest.TestCase):
         self.assertIsNone(re.match(r"_(pe|dcw|enum|cm|twin_re|lay|law|stub)_|_sre|_(cold|outside|record|tuplegetter)\b", word))
 
     def test_kinds_of_nodes(self):
+        own_errors = {node.name for node in self.trees["errors"].body if isinstance(node, ast.ClassDef)}
         for name, tree in self.trees.items():
             around = parents(tree)
             notes = docstrings(tree)
@@ -155,8 +158,14 @@ class Language(unittest.TestCase):
                     for sign, side in zip(node.ops, node.comparators):
                         if isinstance(sign, (ast.Is, ast.IsNot)):
                             self.assertIs(side.value, None)
-                if isinstance(node, ast.BinOp):
-                    self.assertNotIsInstance(node.op, ast.Pow)
+                if isinstance(node, ast.BinOp) and isinstance(node.op, ast.Pow):
+                    self.assertIn(node.right.value, range(65))
+                if isinstance(node, ast.Try):
+                    self.assertFalse(node.orelse or node.finalbody)
+                    for handler in node.handlers:
+                        caught = handler.type.elts if isinstance(handler.type, ast.Tuple) else [handler.type]
+                        self.assertTrue({each.id for each in caught} <= own_errors, (name, node.lineno))
+                        self.assertIsNone(handler.name)
                 if isinstance(node, ast.Set):
                     self.fail((name, node.lineno))
                 if isinstance(node, ast.FormattedValue):
@@ -172,6 +181,8 @@ class Language(unittest.TestCase):
         for name, tree in self.trees.items():
             own = {alias.name for node in tree.body if isinstance(node, ast.ImportFrom) for alias in node.names}
             own |= {node.name for node in tree.body if isinstance(node, (ast.FunctionDef, ast.ClassDef))}
+            # A function may be passed, too.
+            own |= {arg.arg for node in tree.body if isinstance(node, ast.FunctionDef) for arg in node.args.args}
             around = parents(tree)
             for node in ast.walk(tree):
                 if isinstance(node, ast.Call) and isinstance(node.func, ast.Name):
@@ -194,20 +205,22 @@ class Language(unittest.TestCase):
                     self.assertIsInstance(node.exc.func, ast.Name)
 
     def test_methods_and_attributes(self):
-        methods, attributes = set(), set()
+        methods, attributes, properties, others = set(), set(), [], []
         for tree in self.trees.values():
             for node in ast.walk(tree):
                 if isinstance(node, ast.ClassDef):
                     names = [part.name for part in node.body if isinstance(part, ast.FunctionDef)]
                     self.assertEqual(len(names), len(set(names)))
                     methods |= set(names)
+                    properties += [part.name for part in node.body if isinstance(part, ast.FunctionDef) and part.decorator_list]
+                    others += [part.name for part in node.body if isinstance(part, ast.FunctionDef) and not part.decorator_list]
                 if isinstance(node, ast.Attribute) and isinstance(node.ctx, ast.Store):
                     self.assertIsInstance(node.value, ast.Name)
                     attributes.add(node.attr)
         self.assertFalse(methods & attributes)
+        self.assertEqual(len(properties), len(set(properties)))
+        self.assertFalse(set(properties) & set(others))
         self.assertFalse((methods | attributes) & (METHODS - {"copy", "add", "discard"}))
-        # Properties of the HOUSE that is to come, and its methods.
-        self.assertFalse(attributes & set("order stands pins acts do back free go hear heed settle left undo trial".split()))
 
     def test_loops_do_not_change_what_they_go_over(self):
         changing = {"append", "extend", "pop", "insert", "remove", "clear", "reverse", "update", "setdefault"}
