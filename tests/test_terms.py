@@ -173,6 +173,7 @@ class Terms(unittest.TestCase):
             (("pinned", 1, 2, 3), (1,)), (("pinned", ("about", 1), (), 3), (1, 1)), (("beside", ("pinned", W, (), None), 1), (1,)),
             (("pinned", ("pinned", W, None, ()), None, ()), (1,)),
             # The first walk to its end ahead of the second one.
+            (("beside", clash, ("pinned", W, (-1,), ())), (2,)), (("beside", clash, ("pinned", W, (), ("a",))), (2,)), (("beside", away, ("pinned", W, (), (-2, 1))), (2,)),
             (("beside", clash, 1), (2,)), (("beside", away, ("about", ("world", 0))), (2, 1)), (("beside", great, ("pinned", W, (), (1, 0))), (2,)),
             (("pinned", clash, (), (1, 0)), ()), (("beside", clash, spread(13)), ()), (("beside", clash, abouts(6, W)), ()),
             # In the second one what stands in it ahead of the whole, from left to right.
@@ -191,6 +192,10 @@ class Terms(unittest.TestCase):
             kind, fields = raised(lower_by, term, value)
             self.assertEqual(kind, "BadSolution", value)
             self.assertIs(fields["given"], value)
+        both = ("beside", W, ("about", ONE))
+        for value, good in ((((1, 0), (1,)), True), (((0, 1), (1,)), False), (((1, 3), (0,)), False), (((1, 0), (2,)), False), ((None, (1,)), False), (((1, 0), None), False)):
+            self.assertIs(is_term_solution(both, value), good)
+            self.assertEqual(raised(lower_by, both, value)[0], None if good else "BadSolution")
         for value in junk() + [None, 0, (4,), (1, 0), (0, 0), [0], (True,), (None,), (2,), "0"]:
             kind, fields = raised(solution_by, term, value)
             self.assertEqual(kind, "BadLower", value)

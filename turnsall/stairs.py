@@ -29,6 +29,7 @@ def map_count(order, number):
     order, number = _wanted(order, number)
     counts = _falls_of(order)
     many = order[0]
+    # Then there is one MAP to 0, too.
     if many == 0:
         return 1
     return sum([count * comb(number + many - 1 - fall, many) for fall, count in enumerate(counts)])
@@ -37,11 +38,7 @@ def map_count(order, number):
 def strict_count(order, number):
     """How many strict MAPS to the number there are; TooMany(400) of an ORDER with more LOWERS."""
     order, number = _wanted(order, number)
-    counts = _falls_of(order)
-    many = order[0]
-    if many == 0:
-        return 1
-    return sum([count * comb(number + fall, many) for fall, count in enumerate(counts)])
+    return sum([count * comb(number + fall, order[0]) for fall, count in enumerate(_falls_of(order))])
 
 
 def falls(order):
