@@ -169,9 +169,10 @@ class Terms(unittest.TestCase):
             # In the first walk the whole ahead of what stands in it, this from left to right.
             (("beside", 1, 2), (1,)), (("beside", ("about", 1), 2), (1, 1)), (("beside", W, ("pinned", 3, (), ())), (2, 1)),
             (("worlds", 1, 2), ()), (("beside", ("beside", W, 5), 6), (1, 2)), (("about", ("pinned", 1)), (1,)), (("about", ("about", W, 1), 1), ()),
-            # IN, OUT as things of its own, behind what stands ahead of them.
-            (("pinned", 1, 2, 3), (1,)), (("pinned", ("about", 1), (), 3), (1, 1)), (("beside", ("pinned", W, (), None), 1), (1,)),
-            (("pinned", ("pinned", W, None, ()), None, ()), (1,)),
+            # IN, OUT as things of its own: ahead of the TERM that stands in it.
+            (("pinned", 1, 2, 3), ()), (("pinned", 1, (), 3), ()), (("pinned", ("about", 1), (1, 0), ()), ()), (("beside", ("pinned", W, (), None), 1), (1,)),
+            (("pinned", ("pinned", W, None, ()), None, ()), ()), (("about", ("pinned", ("pinned", W, None, ()), (), 0)), (1,)), (("pinned", 1, (), ()), (1,)),
+            (("pinned", abouts(5, W), None, ()), ()), (("beside", 1, ("pinned", W, None, ())), (1,)), (("beside", ("pinned", 1, (), ()), ("pinned", W, 1, ())), (1, 1)),
             # The first walk to its end ahead of the second one.
             (("beside", clash, ("pinned", W, (-1,), ())), (2,)), (("beside", clash, ("pinned", W, (), ("a",))), (2,)), (("beside", away, ("pinned", W, (), (-2, 1))), (2,)),
             (("beside", clash, 1), (2,)), (("beside", away, ("about", ("world", 0))), (2, 1)), (("beside", great, ("pinned", W, (), (1, 0))), (2,)),

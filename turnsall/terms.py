@@ -2,7 +2,7 @@
 
 from turnsall.kinds import plain
 from turnsall.wanted import wanted_lower
-from turnsall.wantedterms import kids_in, wanted_term, wanted_term_solution
+from turnsall.wantedterms import parts_in, wanted_term, wanted_term_solution
 
 
 def need_term(thing):
@@ -19,7 +19,7 @@ def order_by(term):
 def kids_of(term):
     """The TERMS that stand in the TERM itself, from left to right."""
     wanted_term(term)
-    return kids_in(plain(term))
+    return parts_in(plain(term), "term")
 
 
 def is_term_solution(term, value):

@@ -9,7 +9,7 @@ from turnsall.wanted import MOST_ITEMS
 
 MOST_WORDS = 12
 MOST_DEEP = 6
-# What stands behind each word.
+# What stands behind each word: TERMS first.
 PARTS = {
     "world": ("world",), "beside": ("term", "term"), "about": ("term",), "pinned": ("term", "lot", "lot"),
 }
@@ -23,19 +23,16 @@ class TermWalk:
         self.tables = {}
 
     def look_at(self, term, path):
-        """The whole ahead of what stands in it, this from left to right; BadTerm."""
+        """The whole, with its WORLD, its IN and OUT, ahead of the TERMS in it, these from left to right; BadTerm."""
         if self.words == MOST_WORDS or len(path) == MOST_DEEP:
             raise BadTerm(())
         self.words += 1
-        if not _has_form(term):
+        if not _has_form(term) or not all([_is_some_lot(lot) for lot in parts_in(term, "lot")]):
             raise BadTerm(path)
-        for spot, kind in enumerate(PARTS[term[0]], start=1):
-            if kind == "term":
-                self.look_at(term[spot], path + (spot,))
-            elif kind == "world":
-                self.tables[path] = _table_for(term[spot], path)
-            elif not _is_some_lot(term[spot]):
-                raise BadTerm(path)
+        for world in parts_in(term, "world"):
+            self.tables[path] = _table_for(world, path)
+        for spot, kid in enumerate(parts_in(term, "term"), start=1):
+            self.look_at(kid, path + (spot,))
 
     def term_at(self, term, path):
         """What stands in it ahead of the whole; BadTerm of items that are not there, PINS that clash, a great ORDER."""
@@ -97,6 +94,6 @@ def wanted_term_solution(term, thing):
     return solution
 
 
-def kids_in(term):
-    """The TERMS that stand in what plain() told of a TERM, from left to right."""
-    return tuple([part for part, kind in zip(term[1:], PARTS[term[0]]) if kind == "term"])
+def parts_in(term, kind):
+    """All of this kind that stands in what plain() told of a TERM, from left to right."""
+    return tuple([part for part, each in zip(term[1:], PARTS[term[0]]) if each == kind])
